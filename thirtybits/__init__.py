@@ -1,0 +1,1 @@
+"""Thirtybits: big integers, digit by digit."""
