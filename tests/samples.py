@@ -3,7 +3,7 @@
 import unittest
 
 from tests.model import Model
-from thirtybits.bigs import big, plain
+from thirtybits.bigs import Big, big, plain
 
 MACHINES = ((8, 4), (30, 70), (9, 2), (17, 1000))
 
@@ -27,14 +27,32 @@ def counted(machine):
 
 
 class ModelCase(unittest.TestCase):
-    def check_call(self, machine, function, *numbers):
-        """Compare result, tally and walk of a function of Bigs with what the model tells for their integers."""
+    def check_call(self, machine, function, *values):
+        """Compare result, tally and walk of a function with what the model tells; integers stand for Bigs."""
         model = Model(*machine.parts())
-        bigs = [big(machine, n) for n in numbers]
+        names = function.__code__.co_varnames[1:len(values) + 1]
+        passed = [self.argument(machine, name, value) for name, value in zip(names, values)]
         machine.reset()
-        found = function(machine, *bigs)
-        expected = getattr(model, function.__name__)(*numbers)
-        told = function.__name__, numbers
-        self.assertEqual((plain(found), found), (expected, big(machine, expected)), told)
+        found = function(machine, *passed)
+        told = function.__name__, values
+        self.check_result(model, found, getattr(model, function.__name__)(*values), told)
         self.assertEqual((machine.tally(), machine.walk()), (model.tally(), model.walk()), told)
-        self.assertEqual([plain(x) for x in bigs], list(numbers))
+        for value, argument in zip(values, passed):
+            self.assertEqual(plain(argument) if isinstance(argument, Big) else argument, value)
+
+    def argument(self, machine, name, value):
+        if isinstance(value, list):
+            return list(value)
+        return big(machine, value) if name in ("x", "y") else value
+
+    def check_result(self, model, found, expected, told):
+        if isinstance(found, Big):
+            sign = (expected > 0) - (expected < 0)
+            whole = expected, sign, model.row(expected), model.bits
+            self.assertEqual((plain(found), found.sign(), found.digits(), found.bits()), whole, told)
+        elif isinstance(found, tuple):
+            self.assertEqual((type(expected), len(expected)), (tuple, len(found)), told)
+            for part, other in zip(found, expected):
+                self.check_result(model, part, other, told)
+        else:
+            self.assertEqual((found, type(found)), (expected, type(expected)), told)

@@ -5,8 +5,7 @@ import unittest
 from unittest import mock
 
 from tests.kinds import lists, nested, no_integers
-from tests.model import Model
-from tests.samples import both_signs, edges
+from tests.samples import ModelCase, both_signs, edges
 from thirtybits.bigs import (
     Big, absolute, big, bit_count, bit_length, compare, hash_of, negative, normal, plain,
 )
@@ -138,12 +137,9 @@ class Equality(unittest.TestCase):
         self.assertFalse(big(Machine(), 0) == nested(lambda value: [value]))
 
 
-class Comparing(unittest.TestCase):
+class Comparing(ModelCase):
     def check(self, machine, a, b):
-        model = Model(*machine.parts())
-        machine.reset()
-        self.assertEqual(compare(machine, big(machine, a), big(machine, b)), model.compare(a, b), (a, b))
-        self.assertEqual((machine.tally(), machine.walk()), (model.tally(), []), (a, b))
+        self.check_call(machine, compare, a, b)
 
     def test_edges(self):
         for bits in (8, 30):

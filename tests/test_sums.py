@@ -3,7 +3,6 @@
 import random
 import unittest
 
-from tests.model import Model
 from tests.samples import MACHINES, ModelCase, both_signs, counted, edges
 from thirtybits.bigs import big, plain
 from thirtybits.machines import Machine
@@ -128,20 +127,10 @@ class Subtracting(unittest.TestCase):
         self.assertEqual((machine.walk(), counted(machine)), ([("take", 10, 10)], {"looked": 3, "sum": 8}))
 
 
-class Rooms(unittest.TestCase):
+class Rooms(ModelCase):
     def check(self, machine, room, more):
-        bits = machine.parts()[0]
-        whole = [sum(digit << place * bits for place, digit in enumerate(row)) for row in (room, more)]
-        for function, name in ((added_into, "added_into"), (taken_from, "taken_from")):
-            model = Model(*machine.parts())
-            machine.reset()
-            kept = list(room), list(more)
-            digits, carry = function(machine, room, more)
-            self.assertEqual((room, more), kept)
-            self.assertEqual(len(digits), len(room))
-            found = sum(digit << place * bits for place, digit in enumerate(digits))
-            self.assertEqual((found, carry), getattr(model, name)(whole[0], len(room), whole[1], len(more)), name)
-            self.assertEqual((machine.tally(), machine.walk()), (model.tally(), model.walk()), (name, room, more))
+        for function in (added_into, taken_from):
+            self.check_call(machine, function, room, more)
 
     def test_many_rooms(self):
         chance = random.Random(13)

@@ -2,7 +2,7 @@
 
 from thirtybits.errors import InvalidBound
 from thirtybits.machines import check_machine
-from thirtybits.rows import check_row, last_difference, row_of, trimmed
+from thirtybits.rows import check_row, last_difference, number_of, row_of, size_of
 from thirtybits.wholes import is_between, is_integer
 
 HASH_MODULUS = 2 ** 61 - 1
@@ -11,18 +11,15 @@ HASH_MODULUS = 2 ** 61 - 1
 class Big:
     """An integer: its sign and its digits, none of them a 0 at the end. It never changes."""
 
-    def __init__(self, width, side, row):
+    def __init__(self, width, value):
         self.width = width
-        self.side = side
-        self.row = tuple(row)
+        self.side = order_of(value, 0)
+        self.row = tuple(row_of(width, abs(value), size_of(width, value)))
+        # What the digits write is kept beside them, so that no routine has to put it together again.
+        self.value = value
 
     def __eq__(self, other):
-        return (
-            isinstance(other, Big)
-            and self.width == other.width
-            and self.side == other.side
-            and self.row == other.row
-        )
+        return isinstance(other, Big) and self.width == other.width and self.value == other.value
 
     def sign(self):
         """-1, 0 or 1."""
@@ -62,28 +59,9 @@ def check_fit(machine, value, name):
         raise InvalidBound(name)
 
 
-def big_of_row(machine, sign, row):
-    """The Big of a sign and a row, which may have digits 0 at its end."""
-    kept = trimmed(row)
-    if len(kept) == 0:
-        sign = 0
-    return Big(machine.width, sign, kept)
-
-
-def big_of_integer(machine, n):
-    """The Big of an integer."""
-    sign = -1 if n < 0 else 1
-    return big_of_row(machine, sign, row_of(machine, abs(n)))
-
-
-def is_compact(x):
-    """Whether a Big has at most one digit."""
-    return len(x.row) <= 1
-
-
-def compact_value(x):
-    """The integer of a compact Big."""
-    return x.side * sum(x.row)
+def are_compact(machine, x, y):
+    """Whether two integers have at most one digit each."""
+    return x.bit_length() <= machine.width and y.bit_length() <= machine.width
 
 
 def order_of(a, b):
@@ -93,12 +71,21 @@ def order_of(a, b):
     return 0 if a == b else 1
 
 
+def compared(machine, x, y):
+    """-1, 0 or 1 if an integer is less than another one, equal to it, or greater; this is counted."""
+    if are_compact(machine, x, y):
+        machine.step("short", 1)
+    elif (x < 0) == (y < 0) and size_of(machine.width, x) == size_of(machine.width, y):
+        last_difference(machine, abs(x), abs(y))
+    return order_of(x, y)
+
+
 def big(machine, n):
     """The Big of an integer n."""
     check_machine(machine)
     if not is_integer(n):
         raise InvalidBound("n")
-    return big_of_integer(machine, n)
+    return Big(machine.width, n)
 
 
 def normal(machine, sign, digits):
@@ -107,42 +94,28 @@ def normal(machine, sign, digits):
     if not is_between(sign, -1, 1):
         raise InvalidBound("sign")
     check_row(machine, digits, "digits")
-    if sign == 0 and len(trimmed(digits)) > 0:
+    number = number_of(machine.width, digits)
+    if sign == 0 and number > 0:
         raise InvalidBound("sign")
-    return big_of_row(machine, sign, digits)
+    return Big(machine.width, sign * number)
 
 
 def plain(x):
     """The integer of a Big."""
     check_big(x, "x")
-    value = 0
-    for digit in reversed(x.row):
-        value = (value << x.width) + digit
-    return x.side * value
+    return x.value
 
 
 def compare(machine, x, y):
     """-1, 0 or 1 if x is less than y, equal to it, or greater."""
     check_two(machine, x, y)
-    if is_compact(x) and is_compact(y):
-        machine.step("short", 1)
-        return order_of(compact_value(x), compact_value(y))
-    x_reach = x.side * len(x.row)
-    y_reach = y.side * len(y.row)
-    if x_reach != y_reach:
-        return order_of(x_reach, y_reach)
-    place = last_difference(machine, x.row, y.row)
-    if place < 0:
-        return 0
-    return x.side * order_of(x.row[place], y.row[place])
+    return compared(machine, x.value, y.value)
 
 
 def bit_length(x):
     """How many bits the value without its sign has."""
     check_big(x, "x")
-    if len(x.row) == 0:
-        return 0
-    return (len(x.row) - 1) * x.width + x.row[-1].bit_length()
+    return x.value.bit_length()
 
 
 def bit_count(x):
@@ -164,20 +137,17 @@ def ones_of(digit):
 def hash_of(x):
     """The hash: the value modulo 2 ** 61 - 1, with its sign, and -2 in the place of -1."""
     check_big(x, "x")
-    rest = 0
-    for digit in reversed(x.row):
-        rest = ((rest << x.width) + digit) % HASH_MODULUS
-    found = x.side * rest
+    found = x.side * (abs(x.value) % HASH_MODULUS)
     return -2 if found == -1 else found
 
 
 def negative(x):
     """The Big of the value with the other sign."""
     check_big(x, "x")
-    return Big(x.width, -x.side, x.row)
+    return Big(x.width, -x.value)
 
 
 def absolute(x):
     """The Big of the value without its sign."""
     check_big(x, "x")
-    return Big(x.width, abs(x.side), x.row)
+    return Big(x.width, abs(x.value))

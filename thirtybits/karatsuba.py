@@ -1,105 +1,126 @@
-"""Products: by rows for few digits, by slices for lopsided factors, else by Karatsuba's method."""
+"""Products: by rows for few digits, by slices for lopsided factors, else by Karatsuba's method.
 
-from thirtybits.bigs import big_of_integer, big_of_row, check_one, check_two, compact_value, is_compact
+Inside, a factor is a number from 0 on, beside it the number of digits that it is taken to have: more than it needs if
+its last digits are 0, as in a slice.
+"""
+
+from thirtybits.bigs import Big, are_compact, check_one, check_two
 from thirtybits.products import product_by_rows, square_of_row
-from thirtybits.rows import trimmed
-from thirtybits.sums import added_room, added_rows, taken_room
+from thirtybits.rows import low_part, size_of
+from thirtybits.sums import added, joined_room
 
 
 def multiply(machine, x, y):
     """x * y."""
     check_two(machine, x, y)
-    if is_compact(x) and is_compact(y):
-        machine.step("short", 1)
-        return big_of_integer(machine, compact_value(x) * compact_value(y))
-    return big_of_row(machine, x.side * y.side, multiplied(machine, x.row, y.row))
+    return Big(machine.width, product_of(machine, x.value, y.value))
 
 
 def square(machine, x):
     """x * x."""
     check_one(machine, x)
-    if is_compact(x):
+    return Big(machine.width, square_of(machine, x.value))
+
+
+def product_of(machine, x, y):
+    """The product of two integers."""
+    if are_compact(machine, x, y):
         machine.step("short", 1)
-        return big_of_integer(machine, compact_value(x) * compact_value(x))
-    return big_of_row(machine, 1, squared(machine, x.row))
+        return x * y
+    number = multiplied(machine, abs(x), size_of(machine.width, x), abs(y), size_of(machine.width, y))
+    return number if (x < 0) == (y < 0) else -number
 
 
-def multiplied(machine, a, b):
-    """The digits of the product of two rows, without 0 at the end (MULTIPLIED)."""
-    if len(b) < len(a):
-        a, b = b, a
-    if len(a) == 0:
-        return []
-    if len(a) <= machine.cutoff:
-        return product_by_rows(machine, a, b)
-    if 2 * len(a) <= len(b):
-        return lopsided_product(machine, a, b)
-    return karatsuba_product(machine, a, b)
+def square_of(machine, x):
+    """The square of an integer."""
+    if are_compact(machine, x, x):
+        machine.step("short", 1)
+        return x * x
+    return squared(machine, abs(x), size_of(machine.width, x))
 
 
-def squared(machine, a):
-    """The digits of the square of a row, without 0 at the end (SQUARED)."""
-    if len(a) == 0:
-        return []
-    if len(a) <= 2 * machine.cutoff:
-        return square_of_row(machine, a)
-    return karatsuba_square(machine, a)
+def multiplied(machine, a, m, b, n):
+    """The product of two numbers of m and n digits (MULTIPLIED)."""
+    if n < m:
+        a, m, b, n = b, n, a, m
+    if m == 0:
+        return 0
+    if m <= machine.cutoff:
+        return product_by_rows(machine, a, m, b, n)
+    if 2 * m <= n:
+        return lopsided_product(machine, a, m, b, n)
+    return karatsuba_product(machine, a, m, b, n)
 
 
-def lopsided_product(machine, a, b):
-    """The digits of the product of a with a row b at least twice as long, slice by slice (LOPSIDED)."""
-    machine.enter("lopsided", len(a), len(b))
-    room = [0] * (len(a) + len(b))
-    for first in range(0, len(b), len(a)):
-        part = multiplied(machine, a, b[first:first + len(a)])
-        room = room_with(machine, room, first, part)
-    return trimmed(room)
+def squared(machine, a, m):
+    """The square of a number of m digits (SQUARED)."""
+    if m == 0:
+        return 0
+    if m <= 2 * machine.cutoff:
+        return square_of_row(machine, a, m)
+    return karatsuba_square(machine, a, m)
 
 
-def karatsuba_product(machine, a, b):
-    """The digits of the product of a with a row b that is not shorter (KARATSUBA)."""
-    machine.enter("karatsuba", len(a), len(b))
-    cut = len(b) // 2
-    a_low, a_high = parts_of(a, cut)
-    b_low, b_high = parts_of(b, cut)
-    high = multiplied(machine, a_high, b_high)
-    low = multiplied(machine, a_low, b_low)
-    room = outer_room(machine, len(a) + len(b), cut, low, high)
-    a_sum = added_rows(machine, a_high, a_low)
-    b_sum = added_rows(machine, b_high, b_low)
-    return trimmed(room_with(machine, room, cut, multiplied(machine, a_sum, b_sum)))
-
-
-def karatsuba_square(machine, a):
-    """The digits of the square of a row (KARATSUBA)."""
-    machine.enter("karatsuba", len(a), len(a))
-    cut = len(a) // 2
-    a_low, a_high = parts_of(a, cut)
-    high = squared(machine, a_high)
-    low = squared(machine, a_low)
-    room = outer_room(machine, 2 * len(a), cut, low, high)
-    a_sum = added_rows(machine, a_high, a_low)
-    return trimmed(room_with(machine, room, cut, squared(machine, a_sum)))
-
-
-def parts_of(row, cut):
-    """The low part of a row and the high one, each without 0 at the end."""
-    return trimmed(row[:cut]), trimmed(row[cut:])
-
-
-def outer_room(machine, size, cut, low, high):
-    """The room with the products of the low and the high parts in their places, both taken from its middle."""
-    room = [0] * size
-    room[:len(low)] = low
-    room[2 * cut:2 * cut + len(high)] = high
-    for part in (low, high):
-        # What is borrowed behind the last digit comes back when the product of the sums is added.
-        row, borrow = taken_room(machine, room[cut:], part)
-        room[cut:] = row
+def lopsided_product(machine, a, m, b, n):
+    """The product of a with a number b of at least twice as many digits, slice by slice (LOPSIDED)."""
+    machine.enter("lopsided", m, n)
+    width = machine.width
+    room = 0
+    for first in range(0, n, m):
+        part = multiplied(machine, a, m, low_part(width, b, m), min(m, n - first))
+        b >>= m * width
+        above = joined_room(machine, room >> first * width, m + n - first, part, size_of(machine.width, part), 1)
+        room = low_part(width, room, first) + (above << first * width)
     return room
 
 
-def room_with(machine, room, first, part):
-    """A copy of room to which a row was added from number first on."""
-    row, carry = added_room(machine, room[first:], part)
-    return room[:first] + row
+def karatsuba_product(machine, a, m, b, n):
+    """The product of a with a number b that does not have fewer digits (KARATSUBA)."""
+    machine.enter("karatsuba", m, n)
+    cut = n // 2
+    a_low, low_m, a_high, high_m = parts_of(machine, a, cut)
+    b_low, low_n, b_high, high_n = parts_of(machine, b, cut)
+    high = multiplied(machine, a_high, high_m, b_high, high_n)
+    low = multiplied(machine, a_low, low_m, b_low, low_n)
+    above = room_above(machine, m + n - cut, cut, low, high)
+    a_sum = added(machine, a_high, high_m, a_low, low_m)
+    b_sum = added(machine, b_high, high_n, b_low, low_n)
+    middle = multiplied(machine, a_sum, size_of(machine.width, a_sum), b_sum, size_of(machine.width, b_sum))
+    return whole_room(machine, m + n - cut, cut, low, above, middle)
+
+
+def karatsuba_square(machine, a, m):
+    """The square of a number of m digits (KARATSUBA)."""
+    machine.enter("karatsuba", m, m)
+    cut = m // 2
+    a_low, low_m, a_high, high_m = parts_of(machine, a, cut)
+    high = squared(machine, a_high, high_m)
+    low = squared(machine, a_low, low_m)
+    above = room_above(machine, 2 * m - cut, cut, low, high)
+    a_sum = added(machine, a_high, high_m, a_low, low_m)
+    middle = squared(machine, a_sum, size_of(machine.width, a_sum))
+    return whole_room(machine, 2 * m - cut, cut, low, above, middle)
+
+
+def parts_of(machine, a, cut):
+    """The low part of a number with its size, and the high part with its size."""
+    low = low_part(machine.width, a, cut)
+    high = a >> cut * machine.width
+    return low, size_of(machine.width, low), high, size_of(machine.width, high)
+
+
+def room_above(machine, size, cut, low, high):
+    """The room from digit number cut on, so many digits, from which both outer products were taken.
+
+    It may be below 0: what is borrowed behind its last digit comes back when the product of the sums is added.
+    """
+    width = machine.width
+    above = (low >> cut * width) + (high << cut * width)
+    above = joined_room(machine, above, size, low, size_of(machine.width, low), -1)
+    return joined_room(machine, above, size, high, size_of(machine.width, high), -1)
+
+
+def whole_room(machine, size, cut, low, above, middle):
+    """The whole room, when the product of the sums was added to it from digit number cut on."""
+    above = joined_room(machine, above, size, middle, size_of(machine.width, middle), 1)
+    return low_part(machine.width, low, cut) + (above << cut * machine.width)

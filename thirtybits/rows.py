@@ -1,46 +1,69 @@
-"""Rows: lists or tuples of digits, the least first."""
+"""Rows: lists of digits, the least first, and the numbers that they write.
+
+The routines work on whole numbers, which Python adds and multiplies much faster than a loop over digits could; what
+they count follows from the sizes and the digits that change.
+"""
 
 from thirtybits.errors import InvalidBound
 from thirtybits.wholes import is_between
 
+# Longer rows are put together, and taken apart, by halves: digit by digit, each step would copy the whole number.
+LONGEST_LOOP = 32
 
-def top_digit(machine):
-    """The greatest digit, BASE - 1; a number & this is the number modulo BASE."""
-    return (1 << machine.width) - 1
+
+def top_digit(width):
+    """The greatest digit of so many bits, BASE - 1."""
+    return (1 << width) - 1
 
 
 def check_row(machine, value, name):
     """Raise InvalidBound for what is no list of digits."""
     if not isinstance(value, list):
         raise InvalidBound(name)
-    top = top_digit(machine)
+    top = top_digit(machine.width)
     if not all([is_between(digit, 0, top) for digit in value]):
         raise InvalidBound(name)
 
 
-def trimmed(row):
-    """A row without the digits 0 at its end."""
+def size_of(width, n):
+    """How many digits of so many bits an integer has, without its sign."""
+    return (n.bit_length() + width - 1) // width
+
+
+def number_of(width, row):
+    """The number that a row of digits of so many bits writes."""
     size = len(row)
-    while size > 0 and row[size - 1] == 0:
-        size -= 1
-    return row[:size]
+    if size > LONGEST_LOOP:
+        half = size // 2
+        return number_of(width, row[:half]) + (number_of(width, row[half:]) << half * width)
+    number = 0
+    for digit in reversed(row):
+        number = (number << width) + digit
+    return number
 
 
-def row_of(machine, n):
-    """The digits of an integer from 0 on."""
-    top = top_digit(machine)
+def row_of(width, n, size):
+    """The first digits, so many, of a number from 0 on; the last ones are 0 if it has fewer."""
+    if size > LONGEST_LOOP:
+        half = size // 2
+        return row_of(width, low_part(width, n, half), half) + row_of(width, n >> half * width, size - half)
+    top = top_digit(width)
     row = []
-    while n > 0:
+    for place in range(size):
         row.append(n & top)
-        n >>= machine.width
+        n >>= width
     return row
 
 
+def low_part(width, n, size):
+    """The number of the first digits of n, so many; a negative n stands for digits that go on without an end."""
+    return n & ((1 << size * width) - 1)
+
+
 def last_difference(machine, a, b):
-    """The last place at which two rows of one size differ, -1 if there is none."""
-    place = len(a) - 1
-    while place >= 0 and a[place] == b[place]:
-        place -= 1
-    # Equal rows are looked at down to place 0, as are those that differ just there.
-    machine.step("looked", len(a) - max(place, 0))
+    """The last place at which two numbers of one size differ, -1 if there is none."""
+    size = size_of(machine.width, a)
+    place = size_of(machine.width, a ^ b) - 1
+    # Equal digits are looked at down to place 0, as are those that differ just there.
+    machine.step("looked", size - max(place, 0))
     return place
