@@ -252,3 +252,234 @@ class Model:
         for product in (low, high):
             room[s:], borrow = self.taken_from(room[s:], product)
         return room
+
+    # Points 19 to 24.
+
+    def truncated(self, x, y):
+        return self.divided(x, y, "divide short")
+
+    def divided(self, x, y, short_word):
+        a, b = self.row(x), self.row(y)
+        if self.is_first_door(a, b):
+            return 0, x
+        if len(b) == 1:
+            quotient, rest = self.short_division(short_word, a, b[0])
+        else:
+            quotient, rest, told = self.long_division(a, b)
+        sign = -1 if (x < 0) != (y < 0) else 1
+        return sign * self.number(quotient), (-1 if x < 0 else 1) * self.number(rest)
+
+    def is_first_door(self, a, b):
+        return len(a) < len(b) or (len(a) == len(b) and a[-1] < b[-1])
+
+    def short_division(self, word, a, divisor):
+        self.enter(word, len(a), 1)
+        quotient, rest = [0] * len(a), 0
+        for place in range(len(a) - 1, -1, -1):
+            quotient[place], rest = divmod(rest * self.base + a[place], divisor)
+            self.count("quotient")
+        return quotient, [rest]
+
+    def long_division(self, a, b):
+        """Quotient and rest as rows, and what `long_walk` tells."""
+        m, n = len(a), len(b)
+        self.enter("divide long", m, n)
+        d = 0
+        while b[-1] * 2 ** (d + 1) < self.base:
+            d += 1
+        b, over = self.shift_row_up(b, d)
+        assert over == 0
+        a, over = self.shift_row_up(a, d)
+        if over != 0 or a[-1] >= b[-1]:
+            a.append(over)
+        quotient, told = [0] * (len(a) - n), []
+        for j in range(len(a) - n - 1, -1, -1):
+            guess, corrected = self.guessed(a, b, j, n)
+            q, restored = self.take_times(a, b, j, n, guess - corrected)
+            quotient[j] = q
+            told.append((guess, corrected, restored, q))
+        rest, lost = self.shift_row_down(a[:n], d)
+        assert lost == 0
+        return quotient, rest, told
+
+    def guessed(self, a, b, j, n):
+        q, r = divmod(a[j + n] * self.base + a[j + n - 1], b[n - 1])
+        self.count("quotient")
+        guess = q
+        while r < self.base and b[n - 2] * q > r * self.base + a[j + n - 2]:
+            q -= 1
+            r += b[n - 1]
+            self.count("corrected")
+        return guess, guess - q
+
+    def take_times(self, a, b, j, n, q):
+        """Take q times b from a, from number j on; the digit of the quotient, and whether b was added back."""
+        carry = 0
+        for k in range(n):
+            carry, a[j + k] = divmod(a[j + k] - q * b[k] + carry, self.base)
+            self.count("product")
+        left = a[j + n] + carry
+        a[j + n] = 0
+        if left == 0:
+            return q, False
+        assert left == -1
+        carry = 0
+        for k in range(n):
+            carry, a[j + k] = divmod(a[j + k] + b[k] + carry, self.base)
+            self.count("sum")
+        assert carry == 1
+        self.count("restored")
+        return q - 1, True
+
+    def divide_both(self, x, y):
+        if len(self.row(x)) == 1 and len(self.row(y)) == 1:
+            self.count("short")
+            return x // y, x % y
+        quotient, rest = self.truncated(x, y)
+        if rest != 0 and (rest < 0) != (y < 0):
+            rest = self.add(rest, y)
+            quotient = self.subtract(quotient, 1)
+        return quotient, rest
+
+    def floor_divide(self, x, y):
+        return self.divide_both(x, y)[0]
+
+    def modulo(self, x, y):
+        if len(self.row(x)) == 1 and len(self.row(y)) == 1:
+            self.count("short")
+            return x % y
+        quotient, rest = self.divided(x, y, "rest short")
+        return self.add(rest, y) if rest != 0 and (rest < 0) != (y < 0) else rest
+
+    def long_walk(self, x, y):
+        return self.long_division(self.row(x), self.row(y))[2]
+
+    # Points 25 to 27.
+
+    def shift_left(self, x, count):
+        if x == 0:
+            return 0
+        a = self.row(x)
+        w, r = divmod(count, self.bits)
+        if w == 0 and len(a) == 1:
+            self.count("short")
+            return x * 2 ** r
+        self.enter("left", len(a), count)
+        result, over = [0] * w, 0
+        for digit in a:
+            over, found = divmod(digit * 2 ** r + over, self.base)
+            result.append(found)
+            self.count("shifted")
+        return (-1 if x < 0 else 1) * self.number(result + [over])
+
+    def shift_right(self, x, count):
+        a = self.row(x)
+        if x == 0 or (x < 0 and len(a) > 1 and count == 0):
+            return x
+        if len(a) == 1:
+            self.count("short")
+            return (x // 2 ** count) if count < self.bits else -1 if x < 0 else 0
+        self.enter("right", len(a), count)
+        w, r = divmod(count, self.bits)
+        if x < 0 and r == 0:
+            w, r = w - 1, self.bits
+        if w >= len(a):
+            return -1 if x < 0 else 0
+        first = a[w]
+        if x < 0:
+            ahead = 0
+            for digit in a[:w]:
+                ahead = 1 if digit else ahead
+                self.count("looked")
+            first += 2 ** r - 1 + ahead
+        result, over = [], first // 2 ** r
+        for digit in a[w + 1:]:
+            over, found = divmod(digit * 2 ** (self.bits - r) + over, self.base)
+            result.append(found)
+            self.count("shifted")
+        return (-1 if x < 0 else 1) * self.number(result + [over])
+
+    def shift_row_up(self, digits, count):
+        self.enter("lift", len(digits), count)
+        result, over = [], 0
+        for digit in digits:
+            over, found = divmod(digit * 2 ** count + over, self.base)
+            result.append(found)
+            self.count("shifted")
+        return result, over
+
+    def shift_row_down(self, digits, count):
+        self.enter("lower", len(digits), count)
+        result, rest = [], 0
+        for digit in digits[::-1]:
+            found, rest = divmod(rest * self.base + digit, 2 ** count)
+            result.append(found)
+            self.count("shifted")
+        return result[::-1], rest
+
+    # Points 28 to 30.
+
+    def bit_and(self, x, y):
+        return self.combined("and", x, y)
+
+    def bit_or(self, x, y):
+        return self.combined("or", x, y)
+
+    def bit_xor(self, x, y):
+        return self.combined("xor", x, y)
+
+    def bit_not(self, x):
+        if self.are_compact(x):
+            self.count("short")
+            return -x - 1
+        return -self.add(x, 1)
+
+    def join(self, word, one, other):
+        """Join two digits, or the signs (1 for a negative number), bit by bit."""
+        found, place = 0, 1
+        while place < self.base:
+            pair = one // place % 2 + other // place % 2
+            found += place * {"and": pair == 2, "or": pair > 0, "xor": pair == 1}[word]
+            place *= 2
+        return found
+
+    def combined(self, word, x, y):
+        if self.are_compact(x, y):
+            self.count("short")
+            # Two digits more than both have hold the bits 1 ahead of a negative number.
+            whole = self.base ** 3
+            a, b = [self.row(n % whole) + [0] * 3 for n in (x, y)]
+            found = self.number([self.join(word, one, other) for one, other in zip(a[:3], b[:3])])
+            return found - whole if found * 2 >= whole else found
+        a, b = self.row(x), self.row(y)
+        self.enter(word, len(a), len(b))
+        below = [x < 0, y < 0]
+        if below[0]:
+            a = self.complement(a)[0]
+        if below[1]:
+            b = self.complement(b)[0]
+        if len(b) > len(a):
+            a, b, below = b, a, below[::-1]
+        result = []
+        for one, other in zip(a, b):
+            result.append(self.join(word, one, other))
+            self.count("combined")
+        for digit in a[len(b):]:
+            if word == "xor" and below[1]:
+                result.append(self.base - 1 - digit)
+                self.count("combined")
+            elif word == "xor" or (word == "and") == below[1]:
+                result.append(digit)
+        if not self.join(word, int(below[0]), int(below[1])):
+            return self.number(result)
+        return -self.number(self.complement(result + [self.base - 1])[0])
+
+    def complement(self, digits):
+        self.enter("complement", len(digits), 0)
+        result, carry = [], 1
+        for digit in digits:
+            total = self.base - 1 - digit + carry
+            carry = int(total == self.base)
+            result.append(total % self.base)
+            self.count("complemented")
+        return result, carry

@@ -4,6 +4,7 @@ import unittest
 
 from tests.model import Model
 from thirtybits.bigs import Big, big, plain
+from thirtybits.machines import Machine
 
 MACHINES = ((8, 4), (30, 70), (9, 2), (17, 1000))
 
@@ -30,8 +31,7 @@ class ModelCase(unittest.TestCase):
     def check_call(self, machine, function, *values):
         """Compare result, tally and walk of a function with what the model tells; integers stand for Bigs."""
         model = Model(*machine.parts())
-        names = function.__code__.co_varnames[1:len(values) + 1]
-        passed = [self.argument(machine, name, value) for name, value in zip(names, values)]
+        passed = self.arguments(machine, function, values)
         machine.reset()
         found = function(machine, *passed)
         told = function.__name__, values
@@ -40,10 +40,20 @@ class ModelCase(unittest.TestCase):
         for value, argument in zip(values, passed):
             self.assertEqual(plain(argument) if isinstance(argument, Big) else argument, value)
 
-    def argument(self, machine, name, value):
-        if isinstance(value, list):
-            return list(value)
-        return big(machine, value) if name in ("x", "y") else value
+    def told(self, function, *values):
+        """Result, walk and counts of a call on a machine of 8 bits; integers stand for Bigs."""
+        machine = Machine(8, 4)
+        found = function(machine, *self.arguments(machine, function, values))
+        whole = tuple(plain(part) for part in found) if isinstance(found, tuple) else plain(found)
+        return whole, machine.walk(), counted(machine)
+
+    def arguments(self, machine, function, values):
+        """The arguments behind the machine: Bigs of integers where Bigs are asked for, and copies of lists."""
+        names = function.__code__.co_varnames[1:len(values) + 1]
+        return [
+            big(machine, value) if name in ("x", "y") else list(value) if isinstance(value, list) else value
+            for name, value in zip(names, values)
+        ]
 
     def check_result(self, model, found, expected, told):
         if isinstance(found, Big):

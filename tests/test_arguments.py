@@ -5,9 +5,9 @@ import itertools
 import unittest
 
 from tests import kinds
-from thirtybits import bigs, karatsuba, products, sums, wholes
+from thirtybits import bigs, bitwise, division, karatsuba, products, shifts, sums, wholes
 from thirtybits.bigs import big
-from thirtybits.errors import InvalidBound
+from thirtybits.errors import InvalidBound, TooGreat, ZeroDivisor
 from thirtybits.machines import Machine
 
 # Each function with its arguments; for each argument the kind that it must have.
@@ -29,12 +29,37 @@ FUNCTIONS = {
     products.square_by_rows: {"machine": "machine", "x": "big"},
     karatsuba.multiply: {"machine": "machine", "x": "big", "y": "big"},
     karatsuba.square: {"machine": "machine", "x": "big"},
+    division.truncated: {"machine": "machine", "x": "big", "y": "divisor"},
+    division.divide_both: {"machine": "machine", "x": "big", "y": "divisor"},
+    division.floor_divide: {"machine": "machine", "x": "big", "y": "divisor"},
+    division.modulo: {"machine": "machine", "x": "big", "y": "divisor"},
+    division.long_walk: {"machine": "machine", "x": "long", "y": "long divisor"},
+    shifts.shift_left: {"machine": "machine", "x": "big", "count": "count"},
+    shifts.shift_right: {"machine": "machine", "x": "big", "count": "count"},
+    shifts.shift_row_up: {"machine": "machine", "digits": "row", "count": "small count"},
+    shifts.shift_row_down: {"machine": "machine", "digits": "row", "count": "small count"},
+    bitwise.bit_and: {"machine": "machine", "x": "big", "y": "big"},
+    bitwise.bit_or: {"machine": "machine", "x": "big", "y": "big"},
+    bitwise.bit_xor: {"machine": "machine", "x": "big", "y": "big"},
+    bitwise.bit_not: {"machine": "machine", "x": "big"},
+    bitwise.complement: {"machine": "machine", "digits": "row"},
 }
 MODULES = {
     "thirtybits.bigs": bigs,
     "thirtybits.sums": sums,
     "thirtybits.products": products,
     "thirtybits.karatsuba": karatsuba,
+    "thirtybits.division": division,
+    "thirtybits.shifts": shifts,
+    "thirtybits.bitwise": bitwise,
+}
+# The integers of right Bigs, for each kind that is a Big.
+NUMBERS = {
+    "any big": (0, -5, 70000, -256 ** 6),
+    "big": (0, -5, 70000, -256 ** 6),
+    "divisor": (-5, 70000, -256 ** 3),
+    "long": (256 ** 3, -256 ** 6),
+    "long divisor": (-70000, 256 ** 2),
 }
 
 
@@ -62,7 +87,11 @@ def right_values(machine, kind):
         return [[0, 255, 7], [1, 2, 3, 0]]
     if kind == "more":
         return [[], [255], [1, 2, 0]]
-    return [big(machine, n) for n in (0, -5, 70000, -256 ** 6)]
+    if kind == "count":
+        return [0, 7, 8, 100]
+    if kind == "small count":
+        return [0, 1, 7]
+    return [big(machine, n) for n in NUMBERS[kind]]
 
 
 def wrong_values(kind):
@@ -77,8 +106,13 @@ def wrong_values(kind):
     if kind in ("row", "more"):
         wrong = others + kinds.integers() + kinds.bigs() + kinds.machines() + [[256], [0, -1], [0, 0, 256]]
         return wrong + [[0] * 5] if kind == "more" else wrong
+    if kind in ("count", "small count"):
+        wrong = others + kinds.bigs() + kinds.machines() + [[], [1], -1, -2 ** 70]
+        return wrong + [8, 9, 30, 2 ** 70] if kind == "small count" else wrong
     wrong = others + kinds.integers() + kinds.machines() + [[], [1]]
-    return wrong + kinds.bigs() if kind == "big" else wrong
+    if kind == "long divisor":
+        wrong += [big(Machine(8), n) for n in (0, 1, -255)]
+    return wrong if kind == "any big" else wrong + kinds.bigs()
 
 
 def right_call(machine, asked):
@@ -102,7 +136,7 @@ class Names(unittest.TestCase):
 
     def test_by_position_and_by_name(self):
         for function, asked in FUNCTIONS.items():
-            choices = [right_values(None, kind) if kind in ("integer", "sign", "row", "more") else [kind]
+            choices = [[kind] if kind == "machine" or kind in NUMBERS else right_values(None, kind)
                        for kind in asked.values()]
             for chosen in itertools.product(*choices):
                 found = []
@@ -116,7 +150,7 @@ class Names(unittest.TestCase):
     def value(self, machine, value):
         if value == "machine":
             return machine
-        return big(machine, -70000) if value in ("big", "any big") else value
+        return big(machine, -70000) if isinstance(value, str) else value
 
     def call(self, function, names, values, way):
         """Call a function by position, by name, by name with the last argument first, or by both."""
@@ -167,8 +201,11 @@ class Staying(unittest.TestCase):
         """Change each list that a function gave."""
         if isinstance(result, bigs.Big):
             result.digits().append(1)
+        if isinstance(result, list):
+            result.append(1)
         if isinstance(result, tuple):
-            result[0].append(1)
+            for part in result:
+                self.spoil(part)
 
 
 class Wrong(unittest.TestCase):
@@ -213,15 +250,20 @@ class Wrong(unittest.TestCase):
                 machine = Machine(bits, 4)
                 for other in (8, 9, 29, 30):
                     for n in (0, 1, 2 ** 80):
-                        call = {name: big(Machine(other), n) for name in asked}
-                        call["machine"] = machine
+                        call = right_call(machine, asked)
+                        call.update({name: big(Machine(other), n) for name in ("x", "y") if name in asked})
                         if other == bits:
-                            function(**call)
+                            self.call_unless_refused(function, call, n)
                             continue
                         self.refuse(function, call, "x", machine, (function.__name__, bits, other))
                         if "y" in asked:
                             call["x"] = big(machine, n)
                             self.refuse(function, call, "y", machine, (function.__name__, bits, other))
+
+    def call_unless_refused(self, function, call, n):
+        """Call a function with the numbers n, unless it is one that does not take them."""
+        if n > 1 or "divisor" not in FUNCTIONS[function].get("y", ""):
+            function(**call)
 
     def test_bigs_of_another_machine_with_the_same_bits(self):
         machine = Machine(8, 4)
@@ -239,6 +281,52 @@ class Wrong(unittest.TestCase):
                 self.refuse(function, {"machine": machine, "room": [top, 0], "more": [top + 1]}, "more", machine, bits)
                 self.refuse(function, {"machine": machine, "room": [top, 0], "more": [0] * 3}, "more", machine, bits)
                 self.refuse(function, {"machine": machine, "room": [], "more": [0]}, "more", machine, bits)
+
+    def test_counts_for_the_bits_of_the_machine(self):
+        for bits in (8, 9, 30):
+            machine = Machine(bits)
+            for function in (shifts.shift_row_up, shifts.shift_row_down):
+                function(machine, [1], bits - 1)
+                for count in (bits, bits + 1, -1):
+                    self.refuse(function, {"machine": machine, "digits": [1], "count": count}, "count", machine, count)
+
+    def test_numbers_that_do_not_divide_long(self):
+        machine = used_machine()
+        for x, y, argument in (
+            (70000, 0, "y"), (70000, 255, "y"), (70000, -1, "y"), (0, 0, "y"), (0, 70000, "x"), (5, 256, "x"),
+            (256 ** 2 - 1, 256 ** 2, "x"), (-(256 ** 3) - 5, 2 * 256 ** 3, "x"), (511, 512, "x"),
+        ):
+            call = {"machine": machine, "x": big(machine, x), "y": big(machine, y)}
+            self.refuse(division.long_walk, call, argument, machine, (x, y))
+
+    def test_other_errors_come_behind_wrong_arguments(self):
+        machine = used_machine()
+        one, zero = big(machine, 1), big(machine, 0)
+        for function in (division.truncated, division.divide_both, division.floor_divide, division.modulo):
+            self.refuse(function, {"machine": machine, "x": big(Machine(), 1), "y": zero}, "x", machine, "x")
+            self.refuse(function, {"machine": machine, "x": one, "y": big(Machine(), 0)}, "y", machine, "y")
+            self.refuse(function, {"machine": Machine, "x": one, "y": zero}, "machine", machine, "machine")
+        for count in (100001, 2 ** 70):
+            self.refuse(shifts.shift_left, {"machine": machine, "x": 1, "count": count}, "x", machine, "x")
+            self.refuse(shifts.shift_left, {"machine": None, "x": one, "count": count}, "machine", machine, "machine")
+
+    def test_zero_divisors(self):
+        machine = used_machine()
+        before = state(machine)
+        for function in (division.truncated, division.divide_both, division.floor_divide, division.modulo):
+            for x in (0, 1, -255, 256, -(256 ** 5)):
+                with self.assertRaises(ZeroDivisor):
+                    function(machine, big(machine, x), big(machine, 0))
+                self.assertEqual(state(machine), before)
+
+    def test_too_great_shifts(self):
+        machine = used_machine()
+        before = state(machine)
+        for x in (1, -1, 256, -(256 ** 5)):
+            for count in (100001, 2 ** 70):
+                with self.assertRaises(TooGreat):
+                    shifts.shift_left(machine, big(machine, x), count)
+                self.assertEqual(state(machine), before)
 
     def test_a_wrong_argument_does_not_change_lists(self):
         machine = used_machine()

@@ -124,6 +124,111 @@ raises InvalidBound(argument='x')
 >>> [plain(found), dict(tiny.tally())["short"], tiny.walk()]
 [-35, 1, []]
 """,
+    "e401": """
+>>> from thirtybits.machines import Machine
+>>> from thirtybits.bigs import big, plain
+>>> from thirtybits.division import truncated
+>>> tiny = Machine(8, 4)
+>>> pair = truncated(tiny, big(tiny, -2000), big(tiny, 7))
+>>> [plain(pair[0]), plain(pair[1]), tiny.tally()[3], tiny.walk()]
+[-285, -5, ('quotient', 2), [('divide short', 2, 1)]]
+""",
+    "e402": """
+>>> from thirtybits.machines import Machine
+>>> from thirtybits.bigs import big, plain
+>>> from thirtybits.division import truncated
+>>> tiny = Machine(8, 4)
+>>> pair = truncated(tiny, big(tiny, 65536), big(tiny, 258))
+>>> [plain(pair[0]), plain(pair[1]), tiny.tally()[2], tiny.tally()[6], tiny.walk()]
+[254, 4, ('product', 2), ('shifted', 7), [('divide long', 3, 2), ('lift', 2, 7), ('lift', 3, 7), ('lower', 2, 7)]]
+""",
+    "e403": """
+>>> from thirtybits.machines import Machine
+>>> from thirtybits.bigs import big, plain
+>>> from thirtybits.division import divide_both
+>>> tiny = Machine(8, 4)
+>>> pair = divide_both(tiny, big(tiny, -2000), big(tiny, 7))
+>>> [plain(pair[0]), plain(pair[1]), tiny.tally()[0], tiny.tally()[1], tiny.walk()]
+[-286, 2, ('short', 1), ('sum', 2), [('divide short', 2, 1), ('add', 2, 1)]]
+""",
+    "e404": """
+>>> from thirtybits.machines import Machine
+>>> from thirtybits.bigs import big, plain
+>>> from thirtybits.division import modulo
+>>> tiny = Machine(8, 4)
+>>> [plain(modulo(tiny, big(tiny, -2000), big(tiny, 7))), tiny.tally()[0], tiny.tally()[3], tiny.walk()]
+[2, ('short', 1), ('quotient', 2), [('rest short', 2, 1)]]
+""",
+    "e405": """
+>>> from thirtybits.machines import Machine
+>>> from thirtybits.bigs import big
+>>> from thirtybits.division import long_walk
+>>> tiny = Machine(8, 4)
+>>> long_walk(tiny, big(tiny, 8388608), big(tiny, 8388609)), tiny.tally()[5]
+([(1, 0, True, 0)], ('restored', 1))
+""",
+    "e406": """
+>>> from thirtybits.machines import Machine
+>>> from thirtybits.bigs import big
+>>> from thirtybits.division import truncated
+>>> tiny = Machine(8, 4)
+>>> truncated(tiny, big(tiny, 5), big(tiny, 0))
+raises ZeroDivisor()
+""",
+    "e501": """
+>>> from thirtybits.bigs import big
+>>> from thirtybits.machines import Machine
+>>> from thirtybits.shifts import shift_left
+>>> tiny = Machine(8, 4)
+>>> shift_left(tiny, big(tiny, 2000), 11).digits(), tiny.walk()
+([0, 128, 62], [('left', 2, 11)])
+""",
+    "e502": """
+>>> from thirtybits.bigs import big, plain
+>>> from thirtybits.machines import Machine
+>>> from thirtybits.shifts import shift_right
+>>> tiny = Machine(8, 4)
+>>> plain(shift_right(tiny, big(tiny, -2000), 4)), tiny.walk()
+(-125, [('right', 2, 4)])
+""",
+    "e503": """
+>>> from thirtybits.machines import Machine
+>>> from thirtybits.shifts import shift_row_down, shift_row_up
+>>> tiny = Machine(8, 4)
+>>> shift_row_up(tiny, [208, 7], 6), shift_row_down(tiny, [208, 7], 6)
+(([0, 244], 1), ([31, 0], 16))
+""",
+    "e504": """
+>>> from thirtybits.bigs import big
+>>> from thirtybits.machines import Machine
+>>> from thirtybits.shifts import shift_left
+>>> tiny = Machine(8, 4)
+>>> shift_left(tiny, big(tiny, 1), 100001)
+raises TooGreat()
+""",
+    "e505": """
+>>> from thirtybits.bigs import big
+>>> from thirtybits.bitwise import bit_and
+>>> from thirtybits.machines import Machine
+>>> tiny = Machine(8, 4)
+>>> bit_and(tiny, big(tiny, -2000), big(tiny, 70000)).digits(), tiny.walk()
+([48, 16, 1], [('and', 2, 3), ('complement', 2, 0)])
+""",
+    "e506": """
+>>> from thirtybits.bitwise import complement
+>>> from thirtybits.machines import Machine
+>>> tiny = Machine(8, 4)
+>>> complement(tiny, [208, 7]), complement(tiny, [0, 0])
+(([48, 248], 0), ([0, 0], 1))
+""",
+    "e507": """
+>>> from thirtybits.bigs import big, plain
+>>> from thirtybits.bitwise import bit_not, bit_or, bit_xor
+>>> from thirtybits.machines import Machine
+>>> tiny = Machine(8, 4)
+>>> [plain(bit_not(tiny, big(tiny, 2000))), plain(bit_or(tiny, big(tiny, -2000), big(tiny, 7))), plain(bit_xor(tiny, big(tiny, 2000), big(tiny, 256)))]
+[-2001, -1993, 1744]
+""",
 }
 
 
@@ -146,7 +251,7 @@ def outcome(session):
 
 class Examples(unittest.TestCase):
     def test_examples(self):
-        self.assertEqual(len(EXAMPLES), 15)
+        self.assertEqual(len(EXAMPLES), 28)
         for name, session in EXAMPLES.items():
             with self.subTest(example=name):
                 found, expected = outcome(session)

@@ -1,4 +1,4 @@
-"""Products and squares that once took too long: what they give and count, and that they take few steps of Python.
+"""Products and squares that once took too long: what they give and count, and that long calls take few steps of Python.
 
 No clock is read: the lines of the package that are carried out are counted, which is the same on each machine.
 """
@@ -8,6 +8,7 @@ import sys
 
 from tests.samples import ModelCase, counted
 from thirtybits.bigs import big, plain
+from thirtybits.division import divide_both, modulo, truncated
 from thirtybits.karatsuba import multiply, square
 from thirtybits.machines import Machine
 from thirtybits.products import multiply_by_rows, square_by_rows
@@ -117,6 +118,11 @@ class FewLines(ModelCase):
         self.check((30, 70), multiply, 2 ** 6000 - 1, 2 ** 6000 - 1)
         self.check((30, 70), multiply, 2 ** 4200 - 1, 2 ** 30000 - 1)
         self.check((30, 70), square, 2 ** 9000 - 1)
+
+    def test_long_division(self):
+        for function in (truncated, divide_both, modulo):
+            self.check((30, 70), function, -(2 ** 18000) + 5, 2 ** 9000 + 7)
+            self.check((8, 70), function, 2 ** 3200 - 1, -(2 ** 1600) + 1)
 
     def test_many_small_routines(self):
         machine = Machine(8, 2)

@@ -43,7 +43,7 @@ def number_of(width, row):
 
 
 def row_of(width, n, size):
-    """The first digits, so many, of a number from 0 on; the last ones are 0 if it has fewer."""
+    """The first digits, so many, of a number; those that it lacks are 0, or BASE - 1 if it is below 0."""
     if size > LONGEST_LOOP:
         half = size // 2
         return row_of(width, low_part(width, n, half), half) + row_of(width, n >> half * width, size - half)
@@ -56,7 +56,7 @@ def row_of(width, n, size):
 
 
 def low_part(width, n, size):
-    """The number of the first digits of n, so many; a negative n stands for digits that go on without an end."""
+    """The number of the first digits of n, so many."""
     return n & ((1 << size * width) - 1)
 
 

@@ -72,7 +72,7 @@ def joined_rows(machine, room, more, turn):
     size = len(room)
     width = machine.width
     total = joined_room(machine, number_of(width, room), size, number_of(width, more), len(more), turn)
-    return row_of(width, low_part(width, total, size), size), turn * (total >> size * width)
+    return row_of(width, total, size), turn * (total >> size * width)
 
 
 def joined_room(machine, room, r, more, p, turn):
