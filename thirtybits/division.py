@@ -127,7 +127,7 @@ def long_division(machine, a, m, b, n):
     short_of = n * width - b.bit_length()
     b = lifted(machine, b, n, short_of)
     a = lifted(machine, a, m, short_of)
-    # What is left over from a is more than any digit; so this tells, too, whether there is something.
+    # What is left over stands ahead of a's last digit here: if there is something, this is more than any digit.
     if a >> (m - 1) * width >= b >> (n - 1) * width:
         m += 1
     steps, rest = quotient_steps(machine, a, m, b, n)

@@ -85,7 +85,7 @@ def count_right_steps(machine, below, size, count):
     """Count what a right shift of so many digits goes through; below tells whether their number is negative."""
     first = count // machine.width
     if below and count == first * machine.width:
-        # Rounding may carry out of a digit, so that the one ahead is shifted by a whole digit.
+        # The digit ahead is shifted by all of its bits, so that what rounding carries out of it is not lost.
         first -= 1
     if first >= size:
         return
