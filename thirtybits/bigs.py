@@ -11,11 +11,11 @@ HASH_MODULUS = 2 ** 61 - 1
 class Big:
     """An integer: its sign and its digits, none of them a 0 at the end. It never changes."""
 
-    def __init__(self, width, value):
+    def __init__(self, width, value, row):
         self.width = width
         self.side = order_of(value, 0)
-        self.row = tuple(row_of(width, abs(value), size_of(width, value)))
-        # What the digits write is kept beside them, so that no routine has to put it together again.
+        self.row = tuple(row)
+        # What sign and digits write is kept beside them, so that no routine has to put it together again.
         self.value = value
 
     def __eq__(self, other):
@@ -59,6 +59,11 @@ def check_fit(machine, value, name):
         raise InvalidBound(name)
 
 
+def big_of(machine, value):
+    """The Big of an integer."""
+    return Big(machine.width, value, row_of(machine.width, abs(value), size_of(machine.width, value)))
+
+
 def are_compact(machine, x, y):
     """Whether two integers have at most one digit each."""
     return x.bit_length() <= machine.width and y.bit_length() <= machine.width
@@ -85,7 +90,7 @@ def big(machine, n):
     check_machine(machine)
     if not is_integer(n):
         raise InvalidBound("n")
-    return Big(machine.width, n)
+    return big_of(machine, n)
 
 
 def normal(machine, sign, digits):
@@ -97,7 +102,7 @@ def normal(machine, sign, digits):
     number = number_of(machine.width, digits)
     if sign == 0 and number > 0:
         raise InvalidBound("sign")
-    return Big(machine.width, sign * number)
+    return big_of(machine, sign * number)
 
 
 def plain(x):
@@ -144,10 +149,10 @@ def hash_of(x):
 def negative(x):
     """The Big of the value with the other sign."""
     check_big(x, "x")
-    return Big(x.width, -x.value)
+    return Big(x.width, -x.value, x.row)
 
 
 def absolute(x):
     """The Big of the value without its sign."""
     check_big(x, "x")
-    return Big(x.width, abs(x.value))
+    return Big(x.width, abs(x.value), x.row)

@@ -1,6 +1,6 @@
 """Numbers joined bit by bit, where endlessly many bits 1 stand ahead of a negative one."""
 
-from thirtybits.bigs import Big, are_compact, check_one, check_two
+from thirtybits.bigs import are_compact, big_of, check_one, check_two
 from thirtybits.machines import check_machine
 from thirtybits.rows import check_row, number_of, row_of, size_of
 from thirtybits.sums import joined
@@ -10,21 +10,21 @@ def bit_and(machine, x, y):
     """The number with the bits that both x and y have."""
     check_two(machine, x, y)
     count_combining(machine, "and", x.value, y.value, x.value & y.value)
-    return Big(machine.width, x.value & y.value)
+    return big_of(machine, x.value & y.value)
 
 
 def bit_or(machine, x, y):
     """The number with the bits that x or y has."""
     check_two(machine, x, y)
     count_combining(machine, "or", x.value, y.value, x.value | y.value)
-    return Big(machine.width, x.value | y.value)
+    return big_of(machine, x.value | y.value)
 
 
 def bit_xor(machine, x, y):
     """The number with the bits that just one of x and y has."""
     check_two(machine, x, y)
     count_combining(machine, "xor", x.value, y.value, x.value ^ y.value)
-    return Big(machine.width, x.value ^ y.value)
+    return big_of(machine, x.value ^ y.value)
 
 
 def bit_not(machine, x):
@@ -32,8 +32,8 @@ def bit_not(machine, x):
     check_one(machine, x)
     if are_compact(machine, x.value, x.value):
         machine.step("short", 1)
-        return Big(machine.width, ~x.value)
-    return Big(machine.width, -joined(machine, x.value, 1, 1))
+        return big_of(machine, ~x.value)
+    return big_of(machine, -joined(machine, x.value, 1, 1))
 
 
 def complement(machine, digits):

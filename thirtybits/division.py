@@ -1,6 +1,6 @@
 """Division: at once, by one digit, or digit by digit of the quotient."""
 
-from thirtybits.bigs import Big, check_two
+from thirtybits.bigs import big_of, check_two
 from thirtybits.errors import InvalidBound, ZeroDivisor
 from thirtybits.rows import number_of, row_of, size_of, top_digit
 from thirtybits.shifts import lifted, lowered
@@ -23,13 +23,13 @@ def floor_divide(machine, x, y):
     """x / y rounded down."""
     check_division(machine, x, y)
     quotient, rest = divided_down(machine, x.value, y.value)
-    return Big(machine.width, quotient)
+    return big_of(machine, quotient)
 
 
 def modulo(machine, x, y):
     """The rest of x by y, which is 0 or has the sign of y."""
     check_division(machine, x, y)
-    return Big(machine.width, rest_down(machine, x.value, y.value))
+    return big_of(machine, rest_down(machine, x.value, y.value))
 
 
 def long_walk(machine, x, y):
@@ -55,7 +55,7 @@ def check_division(machine, x, y):
 def pair_of(machine, pair):
     """The Bigs of two integers."""
     quotient, rest = pair
-    return Big(machine.width, quotient), Big(machine.width, rest)
+    return big_of(machine, quotient), big_of(machine, rest)
 
 
 def divided(machine, x, y, short_word):

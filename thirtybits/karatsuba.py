@@ -4,7 +4,7 @@ Inside, a factor is a number from 0 on, beside it the number of digits that it i
 its last digits are 0, as in a slice.
 """
 
-from thirtybits.bigs import Big, are_compact, check_one, check_two
+from thirtybits.bigs import are_compact, big_of, check_one, check_two
 from thirtybits.products import product_by_rows, square_of_row
 from thirtybits.rows import low_part, size_of
 from thirtybits.sums import added, joined_room
@@ -13,13 +13,13 @@ from thirtybits.sums import added, joined_room
 def multiply(machine, x, y):
     """x * y."""
     check_two(machine, x, y)
-    return Big(machine.width, product_of(machine, x.value, y.value))
+    return big_of(machine, product_of(machine, x.value, y.value))
 
 
 def square(machine, x):
     """x * x."""
     check_one(machine, x)
-    return Big(machine.width, square_of(machine, x.value))
+    return big_of(machine, square_of(machine, x.value))
 
 
 def product_of(machine, x, y):

@@ -1,19 +1,19 @@
 """Products by rows, one row for each digit."""
 
-from thirtybits.bigs import Big, check_one, check_two
+from thirtybits.bigs import big_of, check_one, check_two
 
 
 def multiply_by_rows(machine, x, y):
     """x * y, by rows."""
     check_two(machine, x, y)
     number = product_by_rows(machine, abs(x.value), len(x.row), abs(y.value), len(y.row))
-    return Big(machine.width, x.side * y.side * number)
+    return big_of(machine, x.side * y.side * number)
 
 
 def square_by_rows(machine, x):
     """x * x, by square rows."""
     check_one(machine, x)
-    return Big(machine.width, square_of_row(machine, abs(x.value), len(x.row)))
+    return big_of(machine, square_of_row(machine, abs(x.value), len(x.row)))
 
 
 def product_by_rows(machine, a, m, b, n):

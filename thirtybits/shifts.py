@@ -1,6 +1,6 @@
 """Shifts of numbers, and of rows by less than a digit."""
 
-from thirtybits.bigs import Big, check_one
+from thirtybits.bigs import big_of, check_one
 from thirtybits.errors import InvalidBound, TooGreat
 from thirtybits.machines import check_machine
 from thirtybits.rows import check_row, number_of, row_of, size_of
@@ -14,13 +14,13 @@ def shift_left(machine, x, count):
     check_shift(machine, x, count)
     if x.value != 0 and count > GREATEST_SHIFT:
         raise TooGreat()
-    return Big(machine.width, shifted_left(machine, x.value, count))
+    return big_of(machine, shifted_left(machine, x.value, count))
 
 
 def shift_right(machine, x, count):
     """x divided by 2 ** count, rounded down."""
     check_shift(machine, x, count)
-    return Big(machine.width, shifted_right(machine, x.value, count))
+    return big_of(machine, shifted_right(machine, x.value, count))
 
 
 def shift_row_up(machine, digits, count):

@@ -1,6 +1,6 @@
 """Sums and differences of numbers, and of rows in place."""
 
-from thirtybits.bigs import Big, are_compact, check_two
+from thirtybits.bigs import are_compact, big_of, check_two
 from thirtybits.errors import InvalidBound
 from thirtybits.machines import check_machine
 from thirtybits.rows import check_row, last_difference, low_part, number_of, row_of, size_of
@@ -9,13 +9,13 @@ from thirtybits.rows import check_row, last_difference, low_part, number_of, row
 def add(machine, x, y):
     """x + y."""
     check_two(machine, x, y)
-    return Big(machine.width, joined(machine, x.value, y.value, 1))
+    return big_of(machine, joined(machine, x.value, y.value, 1))
 
 
 def subtract(machine, x, y):
     """x - y."""
     check_two(machine, x, y)
-    return Big(machine.width, joined(machine, x.value, y.value, -1))
+    return big_of(machine, joined(machine, x.value, y.value, -1))
 
 
 def added_into(machine, room, more):
