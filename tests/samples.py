@@ -2,7 +2,7 @@
 
 import unittest
 
-from tests.model import Model
+from tests.later_model import LaterModel
 from thirtybits.bigs import Big, big, plain
 from thirtybits.machines import Machine
 
@@ -28,32 +28,53 @@ def counted(machine):
 
 
 class ModelCase(unittest.TestCase):
-    def check_call(self, machine, function, *values):
+    def check_call(self, machine, function, *values, **named):
         """Compare result, tally and walk of a function with what the model tells; integers stand for Bigs."""
-        model = Model(*machine.parts())
+        model = LaterModel(*machine.parts())
         passed = self.arguments(machine, function, values)
+        passed_by_name = {name: self.argument(machine, name, value) for name, value in named.items()}
         machine.reset()
-        found = function(machine, *passed)
-        told = function.__name__, values
-        self.check_result(model, found, getattr(model, function.__name__)(*values), told)
+        found = function(machine, *passed, **passed_by_name)
+        told = function.__name__, values, named
+        self.check_result(model, found, getattr(model, function.__name__)(*values, **named), told)
         self.assertEqual((machine.tally(), machine.walk()), (model.tally(), model.walk()), told)
-        for value, argument in zip(values, passed):
-            self.assertEqual(plain(argument) if isinstance(argument, Big) else argument, value)
+        self.assertEqual([self.whole(argument) for argument in passed], list(values))
+        self.assertEqual({name: self.whole(argument) for name, argument in passed_by_name.items()}, named)
 
-    def told(self, function, *values):
+    def told(self, function, *values, **named):
         """Result, walk and counts of a call on a machine of 8 bits; integers stand for Bigs."""
         machine = Machine(8, 4)
-        found = function(machine, *self.arguments(machine, function, values))
-        whole = tuple(plain(part) for part in found) if isinstance(found, tuple) else plain(found)
-        return whole, machine.walk(), counted(machine)
+        named = {name: self.argument(machine, name, value) for name, value in named.items()}
+        found = function(machine, *self.arguments(machine, function, values), **named)
+        return self.whole(found), machine.walk(), counted(machine)
 
     def arguments(self, machine, function, values):
-        """The arguments behind the machine: Bigs of integers where Bigs are asked for, and copies of lists."""
+        """The arguments behind the machine, by their names."""
         names = function.__code__.co_varnames[1:len(values) + 1]
-        return [
-            big(machine, value) if name in ("x", "y") else list(value) if isinstance(value, list) else value
-            for name, value in zip(names, values)
-        ]
+        return [self.argument(machine, name, value) for name, value in zip(names, values)]
+
+    def argument(self, machine, name, value):
+        """What is passed for a value: Bigs for integers where Bigs are asked for, and copies of lists."""
+        if name == "values":
+            return [big(machine, item) for item in value]
+        if name in ("x", "y") or (name == "modulus" and value is not None):
+            return big(machine, value)
+        return list(value) if isinstance(value, list) else value
+
+    def whole(self, value):
+        """Integers for Bigs, also within lists and tuples."""
+        if isinstance(value, (list, tuple)):
+            return type(value)(self.whole(item) for item in value)
+        return plain(value) if isinstance(value, Big) else value
+
+    def refused(self, kind, machine, function, *arguments, **named):
+        """The error of a class that a call raises; tally and walk stay as they were."""
+        before = machine.tally(), machine.walk()
+        with self.assertRaises(kind) as caught:
+            function(*arguments, **named)
+        self.assertEqual((machine.tally(), machine.walk()), before)
+        self.assertIs(type(caught.exception), kind)
+        return caught.exception
 
     def check_result(self, model, found, expected, told):
         if isinstance(found, Big):

@@ -49,11 +49,20 @@ class Errors(unittest.TestCase):
             self.assertIs(caught.exception, error)
             self.assertIsInstance(str(error), str)
 
-    def test_deep_call(self):
-        call = nested(lambda value: (value,))
-        error = errors.InvalidCall(call)
-        self.assertTrue(error.call is call)
-        self.assertIsInstance(str(error) + repr(error), str)
+    def test_fields_that_cannot_be_written(self):
+        deep = nested(lambda value: (value,))
+        for name, field in FIELDS.items():
+            for value in (deep, [deep], 10 ** 5000, -(10 ** 5000), "x" * 100):
+                if field is not None:
+                    error = getattr(errors, name)(value)
+                    self.assertTrue(getattr(error, field) is value)
+                    self.assertIsInstance(str(error) + repr(error), str)
+
+    def test_messages_tell_the_field(self):
+        for error, told in ((errors.InvalidMachine("bits"), "bits"), (errors.InvalidBound("x"), "x"),
+                            (errors.InvalidText(-1), "-1"),
+                            (errors.InvalidText(25), "25"), (errors.LimitExceeded(640), "640")):
+            self.assertTrue(str(error).endswith(told))
 
 
 class Wholes(unittest.TestCase):

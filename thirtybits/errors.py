@@ -9,7 +9,7 @@ class InvalidMachine(BitsError):
     """A machine cannot have this part: "bits" or "cutoff"."""
 
     def __init__(self, part):
-        BitsError.__init__(self, f"no such machine: {part}")
+        BitsError.__init__(self, f"no such machine: {shown(part)}")
         self.part = part
 
 
@@ -17,7 +17,7 @@ class InvalidBound(BitsError):
     """The argument of this name is not what the function asks for."""
 
     def __init__(self, argument):
-        BitsError.__init__(self, f"wrong argument: {argument}")
+        BitsError.__init__(self, f"wrong argument: {shown(argument)}")
         self.argument = argument
 
 
@@ -25,7 +25,7 @@ class InvalidText(BitsError):
     """A text is wrong from this place on; -1 stands for no text at all."""
 
     def __init__(self, place):
-        BitsError.__init__(self, f"wrong text at place {place}")
+        BitsError.__init__(self, f"wrong text at place {shown(place)}")
         self.place = place
 
 
@@ -50,5 +50,12 @@ class LimitExceeded(BitsError):
     """A text has more digits than this limit."""
 
     def __init__(self, limit):
-        BitsError.__init__(self, f"more digits than {limit}")
+        BitsError.__init__(self, f"more digits than {shown(limit)}")
         self.limit = limit
+
+
+def shown(field):
+    """A field as a message writes it; one that may be too long, or nested too deep, to be written is left out."""
+    if isinstance(field, str):
+        return field
+    return str(field) if isinstance(field, int) and field.bit_length() <= 64 else "(not shown)"

@@ -1,4 +1,4 @@
-"""What counts as an integer."""
+"""What counts as an integer, and what several files do with integers without counting it."""
 
 
 def is_integer(value):
@@ -9,3 +9,12 @@ def is_integer(value):
 def is_between(value, low, high):
     """Whether a value is an integer from low to high."""
     return is_integer(value) and low <= value <= high
+
+
+def euclid(a, b):
+    """The greatest common divisor of two numbers from 0 on, and how many quotients it takes."""
+    steps = 0
+    while b != 0:
+        a, b = b, a % b
+        steps += 1
+    return a, steps
