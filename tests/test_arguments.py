@@ -5,12 +5,13 @@ import itertools
 import unittest
 
 from tests import kinds
-from thirtybits import bigs, bitwise, division, karatsuba, products, shifts, sums, wholes
+from thirtybits import bigs, bitwise, byterows, desks, division, gcds, halves, karatsuba, powers, products, roots
+from thirtybits import shifts, sums, texts, trees, wholes
 from thirtybits.bigs import big
-from thirtybits.errors import InvalidBound, TooGreat, ZeroDivisor
+from thirtybits.errors import InvalidBound, InvalidText, TooGreat, ZeroDivisor
 from thirtybits.machines import Machine
 
-# Each function with its arguments; for each argument the kind that it must have.
+# Each function with its arguments, also those behind a star; for each argument the kind that it must have.
 FUNCTIONS = {
     bigs.big: {"machine": "machine", "n": "integer"},
     bigs.normal: {"machine": "machine", "sign": "sign", "digits": "row"},
@@ -43,6 +44,55 @@ FUNCTIONS = {
     bitwise.bit_xor: {"machine": "machine", "x": "big", "y": "big"},
     bitwise.bit_not: {"machine": "machine", "x": "big"},
     bitwise.complement: {"machine": "machine", "digits": "row"},
+    powers.power: {"machine": "machine", "x": "big", "y": "exponent", "modulus": "modulus"},
+    powers.power_steps: {"machine": "machine", "y": "exponent"},
+    powers.inverse: {"machine": "machine", "x": "invertible", "y": "odd modulus"},
+    powers.window_rows: {"y": "row number", "width": "width"},
+    powers.best_width: {"y": "row number"},
+    gcds.gcd: {"machine": "machine", "x": "big", "y": "big"},
+    gcds.lehmer_step: {"machine": "machine", "x": "greater", "y": "lesser"},
+    gcds.lcm: {"machine": "machine", "x": "big", "y": "big"},
+    gcds.gcd_many: {"machine": "machine", "values": "bigs"},
+    gcds.lcm_many: {"machine": "machine", "values": "bigs"},
+    roots.isqrt: {"machine": "machine", "x": "from 0 on"},
+    roots.root_estimates: {"x": "any big from 0 on"},
+    roots.first_root: {"n": "word"},
+    roots.root_table: {},
+    texts.to_text: {"machine": "machine", "x": "big", "base": "written base", "most": "most"},
+    texts.read_text: {"machine": "machine", "text": "text", "base": "base", "most": "most"},
+    texts.group_of: {"machine": "machine", "base": "group base"},
+    byterows.byte_length: {"x": "any big from 0 on", "signed": "flag"},
+    byterows.to_bytes: {"machine": "machine", "x": "few bits", "length": "length", "order": "order", "signed": "flag"},
+    byterows.from_bytes: {"machine": "machine", "row": "bytes", "order": "order", "signed": "flag"},
+    halves.true_quotient: {"machine": "machine", "x": "big", "y": "divisor"},
+    halves.nearest: {"machine": "machine", "x": "big"},
+    halves.divide_near: {"machine": "machine", "x": "big", "y": "divisor"},
+    halves.round_tens: {"machine": "machine", "x": "big", "places": "places"},
+    trees.halves_divide: {"machine": "machine", "x": "big", "y": "divisor", "limit": "divide limit"},
+    trees.halves_read: {"machine": "machine", "text": "decimals", "limit": "read limit"},
+    trees.factorial: {"machine": "machine", "n": "factor"},
+    trees.comb: {"machine": "machine", "n": "things", "k": "chosen"},
+    trees.perm: {"machine": "machine", "n": "things", "k": "chosen"},
+}
+BEHIND_A_STAR = ("modulus", "most", "signed", "limit")
+# The functions that have arguments with a default value; all others have none.
+SIGNATURES = {
+    powers.power: "(machine, x, y, *, modulus=None)",
+    texts.to_text: "(machine, x, base=10, *, most=4300)",
+    texts.read_text: "(machine, text, base=10, *, most=4300)",
+    byterows.byte_length: "(x, *, signed=False)",
+    byterows.to_bytes: "(machine, x, length=1, order='big', *, signed=False)",
+    byterows.from_bytes: "(machine, row, order='big', *, signed=False)",
+    trees.halves_divide: "(machine, x, y, *, limit=4000)",
+    trees.halves_read: "(machine, text, *, limit=2048)",
+    desks.replay: "(deeds, *, bits=30, cutoff=70)",
+    Machine: "(bits=30, cutoff=70)",
+    desks.Desk: "(bits=30, cutoff=70)",
+    desks.Desk.put: "(self, name, n)",
+    desks.Desk.number: "(self, name)",
+    desks.Desk.do: "(self, name, call)",
+    desks.Desk.dearest: "(self, word)",
+    wholes.is_integer: "(value)",
 }
 MODULES = {
     "thirtybits.bigs": bigs,
@@ -52,6 +102,13 @@ MODULES = {
     "thirtybits.division": division,
     "thirtybits.shifts": shifts,
     "thirtybits.bitwise": bitwise,
+    "thirtybits.powers": powers,
+    "thirtybits.gcds": gcds,
+    "thirtybits.roots": roots,
+    "thirtybits.texts": texts,
+    "thirtybits.byterows": byterows,
+    "thirtybits.halves": halves,
+    "thirtybits.trees": trees,
 }
 # The integers of right Bigs, for each kind that is a Big.
 NUMBERS = {
@@ -60,6 +117,63 @@ NUMBERS = {
     "divisor": (-5, 70000, -256 ** 3),
     "long": (256 ** 3, -256 ** 6),
     "long divisor": (-70000, 256 ** 2),
+    "exponent": (0, 3, 70),
+    "invertible": (1, -5, 2 ** 40),
+    "odd modulus": (7, 3 ** 20),
+    "greater": (256 ** 3, 256 ** 7 + 5),
+    "lesser": (0, 70000, 256 ** 3),
+    "from 0 on": (0, 5, 70000, 2 ** 90),
+    "any big from 0 on": (0, 5, 70000, 2 ** 90),
+    "few bits": (0, 5, 100),
+}
+# The right values of the other kinds, but machines.
+VALUES = {
+    "integer": kinds.integers(),
+    "sign": [1, -1],
+    "row": [[0, 255, 7], [1, 2, 3, 0]],
+    "more": [[], [255], [1, 2, 0]],
+    "count": [0, 7, 8, 100],
+    "small count": [0, 1, 7],
+    "row number": [1, 1000, 2 ** 4000 - 1],
+    "width": [1, 12, 5],
+    "word": [2 ** 62, 2 ** 64 - 1],
+    "written base": [2, 8, 16, 10],
+    "base": [0, 2, 36, 10],
+    "group base": [3, 36, 10],
+    "most": [0, 640, 10 ** 100],
+    "text": ["1", "\t+0 ", " -1_0"],
+    "decimals": ["0", "002000"],
+    "flag": [False, True],
+    "length": [1, 10000, 5],
+    "order": ["little", "big"],
+    "bytes": [[], [0], [255, 0, 7]],
+    "places": [0, 1, 5],
+    "divide limit": [1, 4000, 3],
+    "read limit": [1, 2048, 2],
+    "factor": [0, 20, 30],
+    "things": [500, 2 ** 63 - 1, 70],
+    "chosen": [0, 1, 30],
+}
+# Integers that are wrong for the kinds that are integers.
+WRONG_INTEGERS = {
+    "integer": [],
+    "sign": [2, -2, 255, 2 ** 70, -2 ** 70],
+    "count": [-1, -2 ** 70],
+    "small count": [-1, -2 ** 70, 8, 9, 30, 2 ** 70],
+    "row number": [0, -1, 2 ** 4000, -2 ** 4000],
+    "width": [0, 13, -1, 2 ** 70],
+    "word": [0, 2 ** 62 - 1, 2 ** 64, -2 ** 63],
+    "written base": [0, 1, 3, 4, 32, 36, -10, 2 ** 70],
+    "base": [1, 37, -1, -2, 2 ** 70],
+    "group base": [0, 1, 2, 4, 8, 16, 32, 37, -3, 2 ** 70],
+    "most": [1, 639, -1, -640, -2 ** 70],
+    "length": [-1, 10001, 2 ** 70],
+    "places": [-1, 1001, 2 ** 70],
+    "divide limit": [0, 4001, -1, 2 ** 70],
+    "read limit": [0, 2049, -1, 2 ** 70],
+    "factor": [-1, -2 ** 70],
+    "things": [-1, 2 ** 63, 2 ** 70],
+    "chosen": [-1, -2 ** 70],
 }
 
 
@@ -79,40 +193,46 @@ def right_values(machine, kind):
     """Some values that an argument of a kind may have."""
     if kind == "machine":
         return [machine]
-    if kind == "integer":
-        return kinds.integers()
-    if kind == "sign":
-        return [1, -1]
-    if kind == "row":
-        return [[0, 255, 7], [1, 2, 3, 0]]
-    if kind == "more":
-        return [[], [255], [1, 2, 0]]
-    if kind == "count":
-        return [0, 7, 8, 100]
-    if kind == "small count":
-        return [0, 1, 7]
-    return [big(machine, n) for n in NUMBERS[kind]]
+    if kind == "modulus":
+        return [None, big(machine, 7), big(machine, -70000)]
+    if kind == "bigs":
+        return [[], [big(machine, -5)], [big(machine, 12), big(machine, -70000)]]
+    if kind in NUMBERS:
+        return [big(machine, n) for n in NUMBERS[kind]]
+    return [list(value) if isinstance(value, list) else value for value in VALUES[kind]]
 
 
 def wrong_values(kind):
     """Values of every built-in kind but floats, and of the classes of the interface, that are not of a kind."""
-    others = kinds.no_integers() + kinds.lists()
+    others = kinds.no_integers() + kinds.lists() + [desks.Desk()]
+    if kind in WRONG_INTEGERS:
+        return others + kinds.bigs() + kinds.machines() + [[], [1]] + WRONG_INTEGERS[kind]
+    others += kinds.integers()
     if kind == "machine":
-        return others + kinds.integers() + kinds.bigs() + [[], [8, 4]]
-    if kind == "integer":
-        return others + kinds.bigs() + kinds.machines() + [[], [1]]
-    if kind == "sign":
-        return others + kinds.bigs() + kinds.machines() + [[], [1], 2, -2, 255, 2 ** 70, -2 ** 70]
+        return others + kinds.bigs() + [[], [8, 4]]
     if kind in ("row", "more"):
-        wrong = others + kinds.integers() + kinds.bigs() + kinds.machines() + [[256], [0, -1], [0, 0, 256]]
+        wrong = others + kinds.bigs() + kinds.machines() + [[256], [0, -1], [0, 0, 256]]
         return wrong + [[0] * 5] if kind == "more" else wrong
-    if kind in ("count", "small count"):
-        wrong = others + kinds.bigs() + kinds.machines() + [[], [1], -1, -2 ** 70]
-        return wrong + [8, 9, 30, 2 ** 70] if kind == "small count" else wrong
-    wrong = others + kinds.integers() + kinds.machines() + [[], [1]]
+    others += kinds.machines()
+    if kind == "bytes":
+        return others + kinds.bigs() + [[256], [0, -1], [0, 0, 256], [0] * 10001]
+    if kind in ("text", "decimals"):
+        return [value for value in others + kinds.bigs() + [[], ["1"]] if not isinstance(value, str)]
+    if kind == "flag":
+        return [value for value in others + kinds.bigs() + [[], [True]] if not isinstance(value, bool)]
+    if kind == "order":
+        return others + kinds.bigs() + [[], ["big"], "Big", "little ", b"big"]
+    return others + [[1]] + ([] if kind == "bigs" else [[]]) + wrong_bigs(kind)
+
+
+def wrong_bigs(kind):
+    """What is wrong, besides values of other classes, where Bigs of 8 bits are asked for, or a list of such."""
+    if kind == "bigs":
+        return kinds.bigs() + [big(Machine(8), 5), (big(Machine(8), 5),), [big(Machine(8), 5), 5],
+                               [big(Machine(8), 5), big(Machine(9), 5)]]
     if kind == "long divisor":
-        wrong += [big(Machine(8), n) for n in (0, 1, -255)]
-    return wrong if kind == "any big" else wrong + kinds.bigs()
+        return kinds.bigs() + [big(Machine(8), n) for n in (0, 1, -255)]
+    return [] if kind in ("any big", "any big from 0 on") else kinds.bigs()
 
 
 def right_call(machine, asked):
@@ -127,39 +247,46 @@ class Names(unittest.TestCase):
 
     def test_names_and_defaults(self):
         for function, asked in FUNCTIONS.items():
-            found = inspect.signature(function).parameters
-            self.assertEqual(list(found), list(asked))
-            for parameter in found.values():
-                self.assertEqual((parameter.kind, parameter.default), (parameter.POSITIONAL_OR_KEYWORD, parameter.empty))
-        self.assertEqual(str(inspect.signature(Machine)), "(bits=30, cutoff=70)")
-        self.assertEqual(list(inspect.signature(wholes.is_integer).parameters), ["value"])
+            self.assertEqual(list(inspect.signature(function).parameters), list(asked))
+            if function not in SIGNATURES:
+                self.assertEqual(str(inspect.signature(function)), f"({', '.join(asked)})")
+        for function, told in SIGNATURES.items():
+            self.assertEqual(str(inspect.signature(function)), told)
+
+    def test_default_values(self):
+        for function, asked in FUNCTIONS.items():
+            for parameter in inspect.signature(function).parameters.values():
+                if parameter.default is parameter.empty:
+                    continue
+                found = []
+                for leave_out in (False, True):
+                    machine = Machine(8, 4)
+                    call = {**right_call(machine, asked), parameter.name: parameter.default}
+                    if leave_out:
+                        del call[parameter.name]
+                    found.append((function(**call), state(machine)))
+                self.assertEqual(found[0], found[1], (function, parameter))
 
     def test_by_position_and_by_name(self):
         for function, asked in FUNCTIONS.items():
-            choices = [[kind] if kind == "machine" or kind in NUMBERS else right_values(None, kind)
-                       for kind in asked.values()]
-            for chosen in itertools.product(*choices):
+            places = [range(len(right_values(Machine(8, 4),
+                                             kind)))[-1 if kind in NUMBERS else 0:] for kind in asked.values()]
+            for chosen in itertools.product(*places):
                 found = []
                 for way in ("position", "name", "turned", "mixed"):
                     machine = Machine(8, 4)
-                    values = [self.value(machine, value) for value in chosen]
+                    values = [right_values(machine, kind)[place] for kind, place in zip(asked.values(), chosen)]
                     result = self.call(function, list(asked), values, way)
                     found.append((result, state(machine)))
                 self.assertEqual(found, found[:1] * 4, function)
 
-    def value(self, machine, value):
-        if value == "machine":
-            return machine
-        return big(machine, -70000) if isinstance(value, str) else value
-
     def call(self, function, names, values, way):
         """Call a function by position, by name, by name with the last argument first, or by both."""
-        if way == "position":
-            return function(*values)
-        if way == "mixed":
-            return function(*values[:1], **dict(zip(names[1:], values[1:])))
         pairs = list(zip(names, values))
-        return function(**dict(pairs[::-1] if way == "turned" else pairs))
+        if way in ("name", "turned"):
+            return function(**dict(pairs[::-1] if way == "turned" else pairs))
+        by_name = dict(pair for pair in pairs if pair[0] in BEHIND_A_STAR or (way == "mixed" and pair[0] != names[0]))
+        return function(*[value for name, value in pairs if name not in by_name], **by_name)
 
 
 class Staying(unittest.TestCase):
@@ -183,11 +310,12 @@ class Staying(unittest.TestCase):
             machine = Machine(8, 4)
             for values in itertools.product(*[right_values(machine, kind) for kind in asked.values()]):
                 before = [self.told(value) for value in values]
-                result = function(*values)
+                call = dict(zip(asked, values))
+                result = function(**call)
                 self.assertEqual([self.told(value) for value in values], before)
                 told = self.told(result)
                 self.spoil(result)
-                self.assertEqual(self.told(function(*values)), told)
+                self.assertEqual(self.told(function(**call)), told)
 
     def told(self, value):
         """What can be seen of a value, except for a machine's counts."""
@@ -216,6 +344,8 @@ class Wrong(unittest.TestCase):
             function(**call)
         except InvalidBound as error:
             self.assertEqual(error.argument, argument, told)
+        except InvalidText as error:
+            self.assertEqual((argument, error.place), ("text", -1), told)
         else:
             self.fail(told)
         self.assertEqual(state(machine), before, told)
@@ -225,6 +355,8 @@ class Wrong(unittest.TestCase):
         for function, asked in FUNCTIONS.items():
             for name, kind in asked.items():
                 for place, value in enumerate(wrong_values(kind)):
+                    if kind == "modulus" and value is None:
+                        continue
                     call = right_call(machine, asked)
                     call[name] = value
                     # The value itself may be nested too deep to be told.
@@ -235,7 +367,7 @@ class Wrong(unittest.TestCase):
         for function, asked in FUNCTIONS.items():
             for size in range(2, len(asked) + 1):
                 for names in itertools.combinations(asked, size):
-                    for wrong in wrong_values(asked[names[0]])[::9] + [None, "x", (), {}]:
+                    for wrong in wrong_values(asked[names[0]])[1::9] + [(), {}, object()]:
                         for other in (None, True, "x", [[]], machine, big(Machine(9), 1)):
                             call = right_call(machine, asked)
                             call.update(dict.fromkeys(names, other))
@@ -253,17 +385,26 @@ class Wrong(unittest.TestCase):
                         call = right_call(machine, asked)
                         call.update({name: big(Machine(other), n) for name in ("x", "y") if name in asked})
                         if other == bits:
-                            self.call_unless_refused(function, call, n)
+                            self.call_unless_limited(function, call, n)
                             continue
                         self.refuse(function, call, "x", machine, (function.__name__, bits, other))
                         if "y" in asked:
                             call["x"] = big(machine, n)
                             self.refuse(function, call, "y", machine, (function.__name__, bits, other))
 
-    def call_unless_refused(self, function, call, n):
-        """Call a function with the numbers n, unless it is one that does not take them."""
-        if n > 1 or "divisor" not in FUNCTIONS[function].get("y", ""):
-            function(**call)
+    def call_unless_limited(self, function, call, n):
+        """Call a function with the numbers n, unless it is one that does not take all of them."""
+        if {"big", "divisor"} >= {FUNCTIONS[function][name] for name in ("x", "y") if name in call}:
+            if n > 0 or FUNCTIONS[function].get("y") != "divisor":
+                function(**call)
+
+    def test_a_modulus_of_other_bits(self):
+        machine = Machine(8, 4)
+        x, zero = big(machine, 5), big(machine, 0)
+        for other in (9, 30):
+            for n in (0, 1, 7):
+                call = {"machine": machine, "x": x, "y": zero, "modulus": big(Machine(other), n)}
+                self.refuse(powers.power, call, "modulus", machine, other)
 
     def test_bigs_of_another_machine_with_the_same_bits(self):
         machine = Machine(8, 4)

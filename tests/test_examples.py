@@ -61,6 +61,18 @@ raises InvalidMachine(part='bits')
 >>> add(Machine(8), big(Machine(9), 5), big(Machine(9), 5))
 raises InvalidBound(argument='x')
 """,
+    "e09": """
+>>> from thirtybits.roots import first_root, root_table
+>>> [first_root(2 ** 62), first_root(2 ** 64 - 1), root_table()[:3], root_table()[191]]
+[2147483648, 4294967295, [128, 129, 130], 255]
+""",
+    "e10": """
+>>> from thirtybits.machines import Machine
+>>> from thirtybits.bigs import big, plain
+>>> from thirtybits.roots import isqrt, root_estimates
+>>> [plain(isqrt(Machine(), big(Machine(), 2 ** 200 - 1))) == 2 ** 100 - 1, root_estimates(big(Machine(), 10 ** 18))]
+[True, []]
+""",
     "e201": """
 >>> from thirtybits.bigs import big, plain
 >>> from thirtybits.machines import Machine
@@ -124,6 +136,160 @@ raises InvalidBound(argument='x')
 >>> [plain(found), dict(tiny.tally())["short"], tiny.walk()]
 [-35, 1, []]
 """,
+    "e208": """
+>>> from thirtybits.bigs import big, plain
+>>> from thirtybits.machines import Machine
+>>> from thirtybits.texts import to_text
+>>> tiny = Machine(8, 4)
+>>> found = to_text(tiny, big(tiny, -2000))
+>>> [found, dict(tiny.tally())["quotient"]]
+['-2000', 3]
+""",
+    "e209": """
+>>> from thirtybits.bigs import big, plain
+>>> from thirtybits.machines import Machine
+>>> from thirtybits.texts import read_text
+>>> tiny = Machine(8, 4)
+>>> found = read_text(tiny, " -0x_7d0 ", 16)
+>>> [plain(found), tiny.walk()]
+[-2000, [('read', 3, 16)]]
+""",
+    "e210": """
+>>> from thirtybits.bigs import big, plain
+>>> from thirtybits.machines import Machine
+>>> from thirtybits.texts import read_text
+>>> tiny = Machine(8, 4)
+>>> found = read_text(tiny, "-2_000")
+>>> [plain(found), dict(tiny.tally())["product"]]
+[-2000, 1]
+""",
+    "e211": """
+>>> from thirtybits.bigs import big, plain
+>>> from thirtybits.machines import Machine
+>>> from thirtybits.texts import group_of
+>>> [group_of(Machine(), 10), group_of(Machine(8, 4), 10)]
+[(9, 1000000000), (2, 100)]
+""",
+    "e301": """
+>>> from thirtybits.machines import Machine
+>>> from thirtybits.bigs import big, plain
+>>> from thirtybits.powers import power
+>>> tiny = Machine(8, 4)
+>>> held = power(tiny, big(tiny, 3), big(tiny, 5))
+>>> [plain(held), tiny.tally()[0], tiny.walk()]
+[243, ('short', 3), [('binary', 1, 1)]]
+""",
+    "e302": """
+>>> from thirtybits.machines import Machine
+>>> from thirtybits.bigs import big
+>>> from thirtybits.powers import power_steps
+>>> tiny = Machine(8, 4)
+>>> power_steps(tiny, big(tiny, 13))
+(1, [0, 1, 0, 0, 1])
+""",
+    "e303": """
+>>> from thirtybits.machines import Machine
+>>> from thirtybits.bigs import big, plain
+>>> from thirtybits.powers import power
+>>> tiny = Machine(8, 4)
+>>> held = power(tiny, big(tiny, -2), big(tiny, 3), modulus=big(tiny, 7))
+>>> [plain(held), tiny.tally()[0], tiny.walk()]
+[6, ('short', 5), [('few', 1, 1)]]
+""",
+    "e304": """
+>>> from thirtybits.machines import Machine
+>>> from thirtybits.bigs import big, plain
+>>> from thirtybits.powers import inverse
+>>> tiny = Machine(8, 4)
+>>> held = inverse(tiny, big(tiny, 3), big(tiny, 7))
+>>> [plain(held), tiny.tally()[0], tiny.walk()]
+[-2, ('short', 10), [('inverse', 1, 1)]]
+""",
+    "e305": """
+>>> from thirtybits.powers import best_width, window_rows
+>>> (window_rows(1000, 4), best_width(1000))
+([(6, 15), (3, 5)], 2)
+""",
+    "e306": """
+>>> from thirtybits.machines import Machine
+>>> from thirtybits.bigs import big, plain
+>>> from thirtybits.gcds import gcd
+>>> tiny = Machine(8, 4)
+>>> held = gcd(tiny, big(tiny, 2 ** 23), big(tiny, 5000000))
+>>> [plain(held), [row for row in tiny.tally() if row[1] > 0], tiny.walk()]
+[64, [('short', 1), ('product', 12), ('quotient', 16), ('looked', 1)], [('gcd', 3, 3), ('lehmer', 3, 3), ('lehmer', 3, 2), ('euclid', 2, 1)]]
+""",
+    "e307": """
+>>> from thirtybits.machines import Machine
+>>> from thirtybits.bigs import big
+>>> from thirtybits.gcds import lehmer_step
+>>> tiny = Machine(8, 4)
+>>> lehmer_step(tiny, big(tiny, 2 ** 23), big(tiny, 5000000))
+([1, 1, 2, 9, 1], (-28, 47, 31, -52))
+""",
+    "e308": """
+>>> from thirtybits.machines import Machine
+>>> from thirtybits.bigs import big, plain
+>>> from thirtybits.gcds import lcm
+>>> tiny = Machine(8, 4)
+>>> held = lcm(tiny, big(tiny, 12), big(tiny, 18))
+>>> [plain(held), [row for row in tiny.tally() if row[1] > 0], tiny.walk()]
+[36, [('short', 3), ('quotient', 3)], [('euclid', 1, 1)]]
+""",
+    "e309": """
+>>> from thirtybits.machines import Machine
+>>> from thirtybits.bigs import big, plain
+>>> from thirtybits.gcds import gcd_many
+>>> tiny = Machine(8, 4)
+>>> held = gcd_many(tiny, [big(tiny, 12), big(tiny, 5), big(tiny, 100)])
+>>> [plain(held), [row for row in tiny.tally() if row[1] > 0], tiny.walk()]
+[1, [('short', 1), ('quotient', 3)], [('euclid', 1, 1)]]
+""",
+    "e310": """
+>>> from thirtybits.machines import Machine
+>>> from thirtybits.bigs import big, plain
+>>> from thirtybits.trees import halves_divide
+>>> tiny = Machine(8, 4)
+>>> pair = halves_divide(tiny, big(tiny, 25600), big(tiny, 143), limit=4)
+>>> [plain(pair[0]), plain(pair[1]), tiny.tally()[4], [row for row in tiny.walk() if row[0] in ('halves', 'thirds')]]
+[179, 3, ('corrected', 1), [('halves', 7, 8), ('halves', 15, 8), ('thirds', 7, 4), ('halves', 7, 4), ('thirds', 5, 4), ('halves', 5, 4)]]
+""",
+    "e311": """
+>>> from thirtybits.machines import Machine
+>>> from thirtybits.bigs import plain
+>>> from thirtybits.trees import halves_read
+>>> tiny = Machine(8, 4)
+>>> held = halves_read(tiny, '002000', limit=2)
+>>> [plain(held), [row for row in tiny.walk() if row[0] == 'part']]
+[2000, [('part', 0, 6), ('part', 3, 6), ('part', 5, 6), ('part', 3, 5), ('part', 0, 3), ('part', 2, 3), ('part', 0, 2)]]
+""",
+    "e312": """
+>>> from thirtybits.machines import Machine
+>>> from thirtybits.bigs import plain
+>>> from thirtybits.trees import factorial
+>>> tiny = Machine(8, 4)
+>>> held = factorial(tiny, 25)
+>>> [plain(held), [row for row in tiny.walk() if row[0] == 'odd part']]
+[15511210043330985984000000, [('odd part', 3, 5), ('odd part', 5, 7), ('odd part', 7, 13), ('odd part', 13, 27)]]
+""",
+    "e313": """
+>>> from thirtybits.machines import Machine
+>>> from thirtybits.bigs import plain
+>>> from thirtybits.trees import comb, perm
+>>> tiny = Machine(8, 4)
+>>> held = [plain(comb(tiny, 5, 3)), plain(perm(tiny, 5, 3))]
+>>> held + tiny.walk()
+[10, 60, ('comb', 5, 2), ('perm', 5, 3)]
+""",
+    "e314": """
+>>> from thirtybits.machines import Machine
+>>> from thirtybits.bigs import plain
+>>> from thirtybits.trees import comb
+>>> tiny = Machine(8, 4)
+>>> held = comb(tiny, 70, 35)
+>>> [plain(held), [row for row in tiny.walk() if row[0] == 'comb']]
+[112186277816662845432, [('comb', 70, 35), ('comb', 70, 17), ('comb', 53, 18), ('comb', 35, 17)]]
+""",
     "e401": """
 >>> from thirtybits.machines import Machine
 >>> from thirtybits.bigs import big, plain
@@ -174,6 +340,39 @@ raises InvalidBound(argument='x')
 >>> tiny = Machine(8, 4)
 >>> truncated(tiny, big(tiny, 5), big(tiny, 0))
 raises ZeroDivisor()
+""",
+    "e407": """
+>>> from thirtybits.machines import Machine
+>>> from thirtybits.bigs import big
+>>> from thirtybits.halves import true_quotient
+>>> tiny = Machine(8, 4)
+>>> true_quotient(tiny, big(tiny, 1), big(tiny, 3)), true_quotient(tiny, big(tiny, 0), big(tiny, -5)), tiny.tally()[0]
+((1, 6004799503160661, -54), (-1, 0, 0), ('short', 1))
+""",
+    "e408": """
+>>> from thirtybits.machines import Machine
+>>> from thirtybits.bigs import big
+>>> from thirtybits.halves import nearest
+>>> tiny = Machine(8, 4)
+>>> nearest(tiny, big(tiny, 2 ** 53 + 1)), tiny.tally()[6], tiny.walk()
+((1, 4503599627370496, 1), ('shifted', 7), [('nearest', 7, 54), ('lift', 7, 1)])
+""",
+    "e409": """
+>>> from thirtybits.machines import Machine
+>>> from thirtybits.bigs import big, plain
+>>> from thirtybits.halves import divide_near
+>>> tiny = Machine(8, 4)
+>>> pair = divide_near(tiny, big(tiny, 7), big(tiny, -2))
+>>> [plain(pair[0]), plain(pair[1]), tiny.tally()[0], tiny.tally()[3]]
+[-4, -1, ('short', 4), ('quotient', 1)]
+""",
+    "e410": """
+>>> from thirtybits.machines import Machine
+>>> from thirtybits.bigs import big, plain
+>>> from thirtybits.halves import round_tens
+>>> tiny = Machine(8, 4)
+>>> plain(round_tens(tiny, big(tiny, 1250), 2)), tiny.walk()
+(1200, [('few', 1, 1), ('divide short', 2, 1), ('take', 2, 1)])
 """,
     "e501": """
 >>> from thirtybits.bigs import big
@@ -229,6 +428,43 @@ raises TooGreat()
 >>> [plain(bit_not(tiny, big(tiny, 2000))), plain(bit_or(tiny, big(tiny, -2000), big(tiny, 7))), plain(bit_xor(tiny, big(tiny, 2000), big(tiny, 256)))]
 [-2001, -1993, 1744]
 """,
+    "e508": """
+>>> from thirtybits.bigs import big
+>>> from thirtybits.byterows import byte_length, to_bytes
+>>> from thirtybits.machines import Machine
+>>> tiny = Machine(8, 4)
+>>> to_bytes(tiny, big(tiny, -2000), 4, signed=True), byte_length(big(tiny, 255)), byte_length(big(tiny, 255), signed=True)
+([255, 255, 248, 48], 1, 2)
+""",
+    "e509": """
+>>> from thirtybits.bigs import plain
+>>> from thirtybits.byterows import from_bytes
+>>> from thirtybits.machines import Machine
+>>> tiny = Machine(8, 4)
+>>> plain(from_bytes(tiny, [255, 255, 248, 48], signed=True)), plain(from_bytes(tiny, [208, 7], "little"))
+(-2000, 2000)
+""",
+    "e510": """
+>>> from thirtybits.bigs import big
+>>> from thirtybits.byterows import to_bytes
+>>> from thirtybits.machines import Machine
+>>> tiny = Machine(8, 4)
+>>> to_bytes(tiny, big(tiny, 256))
+raises TooGreat()
+""",
+    "e511": """
+>>> from thirtybits.desks import Desk
+>>> d = Desk(8, 4)
+>>> d.put('x', 2000)
+>>> [d.do('y', ('left', 'x', 11)), d.walk(), d.costs(), d.dearest('shifted'), d.undo(), d.names()]
+[4096000, [('left', 2, 11)], [[], [('shifted', 2)]], 1, True, ['x']]
+""",
+    "e512": """
+>>> from thirtybits.desks import Desk
+>>> d = Desk(8, 4)
+>>> d.do('y', ('square', 'x'))
+raises InvalidCall(call=('square', 'x'))
+""",
 }
 
 
@@ -251,7 +487,7 @@ def outcome(session):
 
 class Examples(unittest.TestCase):
     def test_examples(self):
-        self.assertEqual(len(EXAMPLES), 28)
+        self.assertEqual(len(EXAMPLES), 57)
         for name, session in EXAMPLES.items():
             with self.subTest(example=name):
                 found, expected = outcome(session)

@@ -64,14 +64,18 @@ def divided(machine, x, y, short_word):
     b = abs(y)
     if is_less_at_once(machine, a, b):
         return 0, x
+    quotient, rest = divided_digits(machine, a, b, short_word)
+    return quotient if (x < 0) == (y < 0) else -quotient, -rest if x < 0 else rest
+
+
+def divided_digits(machine, a, b, short_word):
+    """The quotient and the rest of two numbers: SHORT division by one digit, LONG division by more."""
     m = size_of(machine.width, a)
     n = size_of(machine.width, b)
     if n == 1:
-        quotient, rest = short_division(machine, short_word, a, m, b)
-    else:
-        steps, rest = long_division(machine, a, m, b, n)
-        quotient = number_of(machine.width, [digit for guess, corrected, restored, digit in reversed(steps)])
-    return quotient if (x < 0) == (y < 0) else -quotient, -rest if x < 0 else rest
+        return short_division(machine, short_word, a, m, b)
+    steps, rest = long_division(machine, a, m, b, n)
+    return number_of(machine.width, [digit for guess, corrected, restored, digit in reversed(steps)]), rest
 
 
 def divided_down(machine, x, y):
