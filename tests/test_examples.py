@@ -1,5 +1,7 @@
-"""The examples of the document, each as it stands there."""
+"""The examples of the document, each as it stands there, and those of README.md."""
 
+import doctest
+import pathlib
 import unittest
 
 from thirtybits import errors
@@ -492,3 +494,9 @@ class Examples(unittest.TestCase):
             with self.subTest(example=name):
                 found, expected = outcome(session)
                 self.assertEqual(found, expected)
+
+    def test_examples_of_the_readme(self):
+        readme = pathlib.Path(__file__).parent.parent / "README.md"
+        found = doctest.testfile(str(readme), module_relative=False)
+        self.assertGreater(found.attempted, 10)
+        self.assertEqual(found.failed, 0)

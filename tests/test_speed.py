@@ -9,9 +9,12 @@ import sys
 from tests.samples import ModelCase, counted
 from thirtybits.bigs import big, plain
 from thirtybits.division import divide_both, modulo, truncated
+from thirtybits.gcds import gcd
 from thirtybits.karatsuba import multiply, square
 from thirtybits.machines import Machine
 from thirtybits.products import multiply_by_rows, square_by_rows
+from thirtybits.roots import isqrt
+from thirtybits.texts import read_text, to_text
 
 
 def lines_of(function, *arguments):
@@ -130,3 +133,22 @@ class FewLines(ModelCase):
         lines = lines_of(multiply, machine, x, x)
         # 1903 times Karatsuba's method, and 3768 times rows; the loops over the digits took more than twice as many.
         self.assertLess(lines, 250000)
+
+    def test_texts(self):
+        for bits in (8, 30):
+            machine = Machine(bits)
+            x = big(machine, 7 ** 4700)
+            text = to_text(machine, x)
+            # Digit by digit, writing and reading take about a hundred thousand steps, and many more with 8 bits.
+            self.assertGreater(counted(machine)["quotient"], 95000)
+            self.assertLess(lines_of(to_text, machine, x), 6 * (len(x.digits()) + len(text) // 2))
+            self.assertLess(lines_of(read_text, machine, text), 25 * len(text))
+
+    def test_gcds_and_roots(self):
+        machine = Machine(8)
+        x, y = big(machine, 3 ** 2000), big(machine, 2 ** 3000 + 1)
+        lines = lines_of(gcd, machine, x, y)
+        self.assertLess(2 * lines, counted(machine)["product"])
+        machine.reset()
+        lines = lines_of(isqrt, machine, big(machine, 10 ** 3000))
+        self.assertLess(5 * lines, counted(machine)["product"])
