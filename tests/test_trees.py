@@ -213,6 +213,9 @@ class HalvesRead(ModelCase):
                             ("1/", 1), ("1:", 1)):
             self.assertEqual(self.refused(InvalidText, machine, halves_read, machine, text, limit=0).place, place)
             self.assertEqual(self.refused(InvalidText, machine, halves_read, machine, text).place, place)
+        for sign in map(chr, range(128)):
+            if sign not in "0123456789":
+                self.assertEqual(self.refused(InvalidText, machine, halves_read, machine, "12" + sign + "3").place, 2)
         for limit in (0, 2049, -1, 4000, 2 ** 70, True, False, None, "4", [4], (4,), machine):
             self.assertEqual(self.refused(InvalidBound, machine, halves_read, machine, "5", limit=limit).argument,
                              "limit")
@@ -231,6 +234,11 @@ class Factorial(ModelCase):
             for n in list(range(19, 70)) + [100, 127, 128, 129, 255, 256, 300, 511, 512]:
                 self.check_call(machine, factorial, n)
                 self.assertEqual(plain(factorial(machine, n)), math.factorial(n))
+
+    def test_order_of_the_factors(self):
+        # With these, factors of one size have parts of several sizes, which the walk tells in their order.
+        for n in (81, 82, 86, 94):
+            self.check_call(Machine(8, 2), factorial, n)
 
     def test_greatest(self):
         for parts in ((8, 70), (30, 70)):
@@ -279,6 +287,11 @@ class Choices(ModelCase):
                 for k in (0, 1, 2, 3, 5, 16, 33, 40):
                     self.check(machine, n, k)
 
+    def test_order_of_the_factors(self):
+        # With these, factors of one size have parts of several sizes, which the walk tells in their order.
+        for n, k in ((91, 30), (100, 27), (112, 51), (127, 36), (39, 35), (42, 35), (45, 35), (51, 35)):
+            self.check(Machine(8, 2), n, k)
+
     def test_at_once(self):
         for n, k in ((5, 3), (5, 2), (66, 33), (127, 15), (67, 33), (2 ** 63 - 1, 1), (2 ** 32, 2)):
             value = math.comb(n, k)
@@ -290,7 +303,7 @@ class Choices(ModelCase):
 
     def test_bounds_of_what_is_told_at_once(self):
         # Of 68 things, 34 can be chosen in more than 2 ** 64 ways; with more than 127 things, k times as many count.
-        for n, k in ((68, 34), (127, 21), (128, 18), (2 ** 32 + 1, 2), (2 ** 33, 2)):
+        for n, k in ((68, 34), (127, 15), (128, 15), (127, 21), (128, 18), (2 ** 32 + 1, 2), (2 ** 33, 2)):
             walk = of(self.told(comb, n, k)[1], "comb")
             at_once = math.comb(n, k) < 2 ** 64 and (n <= 127 or math.comb(n, k) * k < 2 ** 64)
             self.assertEqual(len(walk) == 1, at_once, (n, k))

@@ -37,27 +37,15 @@ def lcm(machine, x, y):
 def gcd_many(machine, values):
     """The greatest common divisor of a list of Bigs, 0 for an empty one."""
     check_many(machine, values)
-    if len(values) == 0:
-        return big_of(machine, 0)
-    found = values[0].value
-    for item in values[1:]:
-        if found == 1:
-            break
-        found = divisor_of(machine, found, item.value)
-    return big_of(machine, abs(found))
+    # Behind a 1, nothing changes any more.
+    return big_of(machine, joined_by(machine, divisor_of, values, 0, 1))
 
 
 def lcm_many(machine, values):
     """The least common multiple of a list of Bigs, 1 for an empty one."""
     check_many(machine, values)
-    if len(values) == 0:
-        return big_of(machine, 1)
-    found = values[0].value
-    for item in values[1:]:
-        if found == 0:
-            break
-        found = multiple_of(machine, found, item.value)
-    return big_of(machine, abs(found))
+    # Behind a 0, nothing changes any more.
+    return big_of(machine, joined_by(machine, multiple_of, values, 1, 0))
 
 
 def check_many(machine, values):
@@ -132,3 +120,15 @@ def multiple_of(machine, x, y):
         return 0
     quotient, rest = divided_down(machine, x, divisor_of(machine, x, y))
     return abs(product_of(machine, quotient, y))
+
+
+def joined_by(machine, action, values, empty, last):
+    """What an action makes of the first value and the second one, of this and the third one, and so on, up to last."""
+    if len(values) == 0:
+        return empty
+    found = values[0].value
+    for item in values[1:]:
+        if found == last:
+            break
+        found = action(machine, found, item.value)
+    return abs(found)

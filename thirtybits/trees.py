@@ -226,9 +226,12 @@ def choices(machine, n, k):
 
 
 def choices_at_once(n, k):
-    """The number of ways to choose k of n things, or some number of more than 64 bits if it has more, uncounted."""
+    """The number of ways to choose k of n things, or some number of more than 64 bits if it has more, uncounted.
+
+    Here k is at most half of n, so that the numbers on the way are not greater.
+    """
     found = 1
-    for taken in range(min(k, n - k)):
+    for taken in range(k):
         found = found * (n - taken) // (taken + 1)
         if found >> WORD_BITS > 0:
             break
